@@ -1,0 +1,1 @@
+"""Crewlags: activities, crews and lags."""

@@ -1,0 +1,171 @@
+"""[2], [3], "The interface": names, arguments, what arguments and results have to do with one another."""
+
+import copy
+import importlib
+import inspect
+import unittest
+
+from crewlags.errors import NoShape
+from crewlags.shapes import Shape
+from tests.support import FOUR, THREE, fields, odd_values
+
+NAMES = {
+    "shapes": {
+        "excess": ("shape", "some"), "allowed_sets": ("shape",), "greatest_allowed": ("shape",),
+        "least_forbidden": ("shape",),
+    },
+    "orders": {
+        "is_order": ("shape", "value"), "closed": ("shape", "pairs"), "unresolved": ("shape", "order"),
+        "graph_of": ("shape", "order"),
+    },
+    "graphs": {
+        "orient": ("shape", "graph"), "graph_fault": ("shape", "graph"), "least_graphs": ("shape",),
+        "sure_pairs": ("shape",), "idle_pairs": ("shape",), "least_within": ("shape", "graph"), "single": ("shape",),
+    },
+    "schedules": {
+        "overlapping": ("durations", "starts"), "length_of": ("durations", "starts"),
+        "schedule_graph": ("durations", "starts"), "schedule_faults": ("shape", "durations", "starts"),
+        "earliest": ("shape", "order", "durations"), "schedule_order": ("shape", "durations", "starts"),
+    },
+    "lengths": {
+        "time_of": ("shape", "graph", "durations"), "least_time": ("shape", "durations"),
+        "best_graphs": ("shape", "durations"), "longer_at": ("shape", "one", "other"),
+        "growth": ("shape", "durations", "a"), "slack": ("shape", "durations", "a"),
+        "critical": ("shape", "durations"),
+    },
+    "bounds": {
+        "too_heavy": ("shape", "weights"), "heaviest": ("shape", "weights"), "best_bound": ("shape", "durations"),
+        "check_bound": ("shape", "durations", "bound"),
+    },
+}
+
+# for the shape FOUR: arguments that are right, lists where lists may be
+GIVEN = {
+    "some": (1, 2), "value": [(0, 1), (2, 1), (2, 3)], "pairs": [(1, 2), (2, 3), (1, 2)],
+    "order": [(2, 3), (0, 1), (2, 1)], "graph": [(1, 2), (0, 1), (2, 3)], "one": [(0, 2), (0, 1)], "other": [(0, 1)],
+    "durations": (3, (1, 2), 0, 4), "starts": (0, 3, 3, (7, 2)), "weights": ((1, 2), 0, 0, (2, 3)), "a": 2,
+    "bound": (4, (0, 0, 0, 1), [((0, 3), 3), ((1, 3), 1)]),
+}
+
+
+def all_functions():
+    """Each function of the interface with its name and its parameters."""
+    return [
+        (getattr(importlib.import_module("crewlags." + module), name), name, parameters)
+        for module, rows in NAMES.items() for name, parameters in rows.items()
+    ]
+
+
+def given(name, parameters):
+    """Right arguments by name, all of them new."""
+    told = {one: FOUR if one == "shape" else copy.deepcopy(GIVEN[one]) for one in parameters}
+    if name == "check_bound":
+        told["durations"] = (3, 0, 0, 4)
+    if name == "schedule_order":
+        told["starts"] = (0, 3, 3, 3)
+    return told
+
+
+class Interface(unittest.TestCase):
+    def test_parameters_are_named_as_told(self):
+        for function, name, parameters in all_functions():
+            signature = inspect.signature(function)
+            self.assertEqual(tuple(signature.parameters), parameters, name)
+            for parameter in signature.parameters.values():
+                self.assertEqual(parameter.kind, parameter.POSITIONAL_OR_KEYWORD)
+                self.assertIs(parameter.default, parameter.empty)
+
+    def test_each_function_is_defined_in_its_file(self):
+        for module, rows in NAMES.items():
+            for name in rows:
+                function = getattr(importlib.import_module("crewlags." + module), name)
+                self.assertTrue(inspect.isfunction(function))
+                self.assertEqual(function.__module__, "crewlags." + module)
+        self.assertEqual(Shape.__module__, "crewlags.shapes")
+
+    def test_by_name_and_by_position_is_the_same(self):
+        for function, name, parameters in all_functions():
+            told = given(name, parameters)
+            self.assertEqual(function(**told), function(*[told[one] for one in parameters]), name)
+
+    def test_the_parts_of_a_shape_behind_the_star_are_told_by_name_alone(self):
+        signature = inspect.signature(Shape)
+        self.assertEqual(tuple(signature.parameters), ("names", "before", "machines", "crew", "asks"))
+        for name in ("before", "machines", "crew", "asks"):
+            self.assertEqual(signature.parameters[name].kind, inspect.Parameter.KEYWORD_ONLY)
+            self.assertEqual(signature.parameters[name].default, ())
+        self.assertEqual(Shape(names=("a",)), Shape(("a",)))
+        with self.assertRaises(TypeError):
+            Shape(("a",), ())
+
+    def test_no_shape_comes_first_for_each_function(self):
+        for function, name, parameters in all_functions():
+            if parameters[0] != "shape":
+                continue
+            for value in odd_values() + [(), [], "abc"]:
+                if isinstance(value, Shape):
+                    continue
+                for others in (given(name, parameters), {one: object() for one in parameters}):
+                    others["shape"] = value
+                    with self.assertRaises(NoShape) as caught:
+                        function(**others)
+                    self.assertEqual(fields(caught.exception), {"part": "shape", "index": -1})
+
+    def test_arguments_are_not_changed(self):
+        for function, name, parameters in all_functions():
+            told = given(name, parameters)
+            kept = copy.deepcopy(told)
+            before = copy.deepcopy(vars(FOUR))
+            function(**told)
+            self.assertEqual(told, kept, name)
+            self.assertEqual(vars(FOUR), before, name)
+
+    def test_equal_arguments_give_equal_results(self):
+        for function, name, parameters in all_functions():
+            self.assertEqual(function(**given(name, parameters)), function(**given(name, parameters)), name)
+
+    def test_a_told_list_that_is_changed_changes_nothing(self):
+        for function, name, parameters in all_functions():
+            told = given(name, parameters)
+            first = function(**told)
+            kept = copy.deepcopy(first)
+            spoil(first)
+            self.assertEqual(function(**told), kept, name)
+
+    def test_a_list_that_was_handed_in_is_not_the_one_that_is_told(self):
+        for function, name, parameters in all_functions():
+            told = given(name, parameters)
+            result = function(**told)
+            for value in told.values():
+                if isinstance(value, list):
+                    self.assertIsNot(result, value, name)
+
+    def test_a_list_that_is_handed_in_and_changed_later_changes_nothing(self):
+        names, before, machines, crew, asks = ["a", "b"], [(0, 1)], [(2, (1, 1))], [("x",)], [(("x", 1),), ()]
+        shape = Shape(names, before=before, machines=machines, crew=crew, asks=asks)
+        kept = Shape(tuple(names), before=tuple(before), machines=tuple(machines), crew=tuple(crew), asks=tuple(asks))
+        for rows in (names, before, machines, crew, asks):
+            rows.clear()
+        self.assertEqual(shape, kept)
+        self.assertEqual(shape.names, ("a", "b"))
+
+    def test_a_shape_is_equal_to_nothing_of_another_kind(self):
+        for value in odd_values() + [vars(THREE), THREE.names, "shape", ()]:
+            if value is not THREE:
+                self.assertIs(THREE == value, False)
+                self.assertIs(THREE != value, True)
+                self.assertIs(value == THREE, False)
+
+
+def spoil(value):
+    """Changes each list in a value."""
+    if isinstance(value, (list, tuple)):
+        for item in value:
+            spoil(item)
+    if isinstance(value, list):
+        value.append("spoilt")
+        value.reverse()
+
+
+if __name__ == "__main__":
+    unittest.main()
