@@ -19,24 +19,23 @@ def clique_rows(lengths):
 
 
 def longest(rows, mask):
-    """The first of the rows whose set is a clique of the graph."""
-    for row in rows:
-        if is_part(row[2], mask):
-            return row
-    return 0, (), 0
+    """The first of the rows whose set is a clique of the graph; that of one activity always is."""
+    at = 0
+    while not is_part(rows[at][2], mask):
+        at += 1
+    return rows[at]
 
 
 def frontier(masks, lengths, a):
     """The graphs that are the best ones for some duration of a, as pairs (flat, base), flat ascending.
 
-    flat is what a graph takes without a, base what it takes with what is beside
-    a in a clique, without the duration of a itself.
+    flat is what a graph takes if a has the duration 0, base the part of it that
+    the cliques with a take.
     """
     rows = clique_rows([0 if one == a else length for one, length in enumerate(lengths)])
     beside = [row for row in rows if a in row[1]]
-    apart = [row for row in rows if a not in row[1]]
     kept = []
-    for pair in sorted([(longest(apart, mask)[0], longest(beside, mask)[0]) for mask in masks]):
+    for pair in sorted([(longest(rows, mask)[0], longest(beside, mask)[0]) for mask in masks]):
         if not kept or pair[1] < kept[-1][1]:
             kept.append(pair)
     return kept
@@ -45,15 +44,14 @@ def frontier(masks, lengths, a):
 def pieces(pairs):
     """The pieces (start, time, slope) of the least time over the duration of an activity, told by its frontier.
 
-    Each graph in turn first takes its flat time, and then grows up to the flat time of the next one.
+    Each graph in turn takes its flat time, and grows then until the next one takes no longer.
     """
     rows = []
     for at, (flat, base) in enumerate(pairs):
-        turn = max(flat - base, 0)
-        if turn > 0:
-            rows.append((max(flat - pairs[at - 1][1], 0) if at else 0, flat, 0))
-        if at + 1 == len(pairs) or pairs[at + 1][0] - base > 0:
-            rows.append((turn, turn + base, 1))
+        start = flat - pairs[at - 1][1] if at else 0
+        if start < flat - base:
+            rows.append((start, flat, 0))
+        rows.append((flat - base, flat, 1))
     return rows
 
 

@@ -121,7 +121,6 @@ class BestBound(unittest.TestCase):
             self.assertGreaterEqual(sum(fraction(amount) for some, amount in cover if a in some), length)
         self.assertEqual(sum(fraction(amount) for _, amount in cover), fraction(value))
         self.assertIsNone(check_bound(shape, durations, (value, weights, cover)))
-        self.assertLessEqual(fraction(value), fraction(least_time(shape, durations)[0]))
         return fraction(value)
 
     def test_small_shapes(self):
@@ -130,15 +129,16 @@ class BestBound(unittest.TestCase):
         for shape in SHAPES:
             for _ in range(2):
                 durations = some_durations(rnd, len(shape.names))
-                value = self.check(shape, durations)
-                less += value < fraction(least_time(shape, durations)[0])
+                value, time = self.check(shape, durations), fraction(least_time(shape, durations)[0])
+                self.assertLessEqual(value, time)
+                less += value < time
         self.assertGreater(less, 2)
 
     def test_shapes_of_six_and_seven(self):
         rnd = random.Random(4)
-        for seed in range(12):
+        for seed in range(120):
             for many in (6, 7):
-                self.check(some_shape(seed, many), some_durations(rnd, many))
+                self.check(some_shape(seed, many), tuple(rnd.randint(0, 9) for _ in range(many)))
 
     def test_it_is_the_least_time_on_an_allowed_set(self):
         for shape in SHAPES:

@@ -28,6 +28,11 @@ def groups(many, most):
     return sorted(told, key=lambda pairs: (len(pairs), pairs))
 
 
+def shown(pairs):
+    """A graph, each pair as two figures."""
+    return " ".join(f"{a}{b}" for a, b in pairs)
+
+
 class LeastGraphs(unittest.TestCase):
     def test_small_shapes_against_all_graphs(self):
         numbers = set()
@@ -88,6 +93,26 @@ class LeastGraphs(unittest.TestCase):
         self.assertEqual(least_graphs(shape), all_least(shape, ORDERS[4]))
         for pairs in least_graphs(shape):
             self.assertIn((0, 3), pairs)
+
+    def test_pairs_that_come_in_because_of_what_goes_ahead(self):
+        machines = ((3, (1, 0, 1, 3, 2, 0)), (7, (2, 3, 1, 3, 0, 2)))
+        shape = Shape(tuple("abcdef"), before=((1, 3), (2, 5), (3, 4)), machines=machines)
+        self.assertEqual([shown(pairs) for pairs in least_graphs(shape)], [
+            "03 04 13 14 23 24 25 34", "01 02 03 13 14 23 24 25 34", "01 02 03 12 13 14 15 23 25 34 35",
+            "01 03 04 12 13 14 15 23 25 34 35", "01 03 12 13 14 15 23 24 25 34 35",
+            "02 03 04 05 12 13 14 15 23 25 34 35",
+        ])
+        before = ((1, 0), (1, 4), (0, 3), (4, 5))
+        shape = Shape(tuple("abcdefg"), before=before, machines=((3, (3, 2, 1, 2, 1, 0, 2)),))
+        self.assertEqual([shown(pairs) for pairs in least_graphs(shape)], [
+            "01 02 03 04 05 06 12 13 14 15 16 24 36 45", "01 02 03 04 06 13 14 15 16 23 26 34 36 45",
+            "01 02 03 04 06 13 14 15 16 23 34 36 45 46", "01 02 03 04 05 06 12 13 14 15 16 23 26 36 45",
+            "01 02 03 04 05 06 12 13 14 15 16 23 36 45 46", "01 02 03 04 05 06 12 13 14 15 16 26 34 36 45",
+            "01 02 03 04 05 06 12 13 14 15 16 34 36 45 46", "01 02 03 04 06 12 13 14 15 16 23 24 34 36 45",
+            "01 02 03 04 06 12 13 14 15 16 24 26 34 36 45", "01 02 03 04 06 12 13 14 15 16 24 34 36 45 46",
+            "01 02 03 04 06 13 14 15 16 23 24 25 34 36 45", "01 02 03 04 05 06 13 14 15 16 23 24 25 26 36 45",
+            "01 02 03 04 05 06 13 14 15 16 23 24 25 36 45 46 56",
+        ])
 
     def test_example(self):
         self.assertEqual(least_graphs(THREE), [[(0, 1)], [(0, 2)], [(1, 2)]])
