@@ -56,3 +56,16 @@ def number(top, bottom):
 def numbers(tops, bottom):
     """The tuple of the numbers top through bottom."""
     return tuple([number(top, bottom) for top in tops])
+
+
+def sum_of(amounts):
+    """The sum of amounts."""
+    bottom = shared_bottom(amounts)
+    return number(sum(times_bottom(amounts, bottom)), bottom)
+
+
+def sum_of_products(ones, others):
+    """The sum of the products of amounts side by side."""
+    one, other = shared_bottom(ones), shared_bottom(others)
+    products = [left * right for left, right in zip(times_bottom(ones, one), times_bottom(others, other))]
+    return number(sum(products), one * other)

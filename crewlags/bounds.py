@@ -1,6 +1,6 @@
 """Linear bounds of the least time that hold for all durations."""
 
-from crewlags.amounts import is_amount, number, numbers, shared_bottom, times_bottom
+from crewlags.amounts import is_amount, number, numbers, shared_bottom, sum_of, sum_of_products, times_bottom
 from crewlags.errors import NoBound
 from crewlags.kinds import is_set
 from crewlags.needs import need_durations, need_weights
@@ -11,19 +11,6 @@ from crewlags.simplex import best_weights
 def weight_of(some, weights):
     """The sum of the weights of the members of a set, for integers."""
     return sum([weights[a] for a in some])
-
-
-def sum_of(amounts):
-    """The sum of amounts."""
-    bottom = shared_bottom(amounts)
-    return number(sum(times_bottom(amounts, bottom)), bottom)
-
-
-def sum_of_products(ones, others):
-    """The sum of the products of amounts side by side."""
-    one, other = shared_bottom(ones), shared_bottom(others)
-    products = [left * right for left, right in zip(times_bottom(ones, one), times_bottom(others, other))]
-    return number(sum(products), one * other)
 
 
 def too_heavy_set(shape, weights):
@@ -85,7 +72,8 @@ def best_bound(shape, durations):
     need_durations(durations, len(shape.names), len(shape.names))
     bottom = shared_bottom(durations)
     sets = greatest_allowed(shape)
-    weights, amounts, turn = best_weights(sets, times_bottom(durations, bottom))
+    rows = [[1 if a in some else 0 for a in range(len(durations))] for some in sets]
+    weights, amounts, turn = best_weights(rows, times_bottom(durations, bottom))
     cover = [(some, number(amount, turn * bottom)) for some, amount in zip(sets, amounts) if amount > 0]
     return number(sum(amounts), turn * bottom), numbers(weights, turn), cover
 

@@ -1,19 +1,19 @@
-"""The best weights of activities no set of which weighs more than 1, with what shows that they are.
+"""The best weights of some things no row of which weighs more than 1, with what shows that they are.
 
-Columns are: a weight for each activity, what each set lacks to 1, and the right
-side. All rows are integers over one bottom, the number they were last turned at;
-every division below leaves no rest.
+A row counts how often each thing comes in it. Columns are: a weight for each
+thing, what each row lacks to 1, and the right side. All rows are integers over
+one bottom, the number they were last turned at; every division below leaves no
+rest.
 """
 
 
-def first_rows(sets, worths):
-    """The rows at which all weights are 0: one for each set, and behind them that of the worths."""
+def first_rows(counts, worths):
+    """The rows at which all weights are 0: one for each row of counts, and behind them that of the worths."""
     rows = []
-    for at, some in enumerate(sets):
-        weights = [1 if a in some else 0 for a in range(len(worths))]
-        lacks = [1 if other == at else 0 for other in range(len(sets))]
-        rows.append(weights + lacks + [1])
-    rows.append([-worth for worth in worths] + [0] * (len(sets) + 1))
+    for at, row in enumerate(counts):
+        lacks = [1 if other == at else 0 for other in range(len(counts))]
+        rows.append(row + lacks + [1])
+    rows.append([-worth for worth in worths] + [0] * (len(counts) + 1))
     return rows
 
 
@@ -56,15 +56,16 @@ def turned(rows, at, column, bottom):
     return new
 
 
-def best_weights(sets, worths):
-    """The weights and the amounts of the sets, as tops over one bottom, and the bottom.
+def best_weights(counts, worths):
+    """The weights and the amounts of the rows, as tops over one bottom, and the bottom.
 
     The weights times the worths have the greatest sum of all weights by which none of
-    the sets, of which each activity has one, weighs more than 1. The amounts of the
-    sets with an activity are together at least its worth, and those of all are that sum.
+    the rows weighs more than 1; each thing with a worth has to come in a row. Each
+    thing comes in the amounts of the rows together at least as often as its worth is,
+    and the sum of these amounts is that greatest sum.
     """
-    rows = first_rows(sets, worths)
-    basis = [len(worths) + at for at in range(len(sets))]
+    rows = first_rows(counts, worths)
+    basis = [len(worths) + at for at in range(len(counts))]
     bottom = 1
     column = entering(rows)
     while column is not None:

@@ -4,7 +4,9 @@ import random
 from fractions import Fraction
 from itertools import combinations, permutations, product
 
+from crewlags.calendars import Calendar
 from crewlags.errors import CrewError, NoShape
+from crewlags.projects import Project
 from crewlags.shapes import Shape
 
 THREE = Shape(("a", "b", "c"), machines=((2, (1, 1, 1)),))
@@ -14,6 +16,11 @@ FOUR = Shape(
     machines=((2, (1, 1, 1, 1)),),
     crew=(("weld",), ("weld", "lift")),
     asks=((), (("lift", 1),), (("weld", 2),), (("weld", 1),)),
+)
+WEEK = Calendar((True, True, False), changes=((4, False),))
+PLAN = Project(
+    ("a", "b"), 9, (), (), (((2, (), (), 0),), ((3, (), (), 0),)), calendars=(None, Calendar((True, False))),
+    lags=(("end", 0, "start", 1, 0, 1),),
 )
 
 
@@ -51,7 +58,7 @@ def odd_values():
     return [
         None, True, False, -1, -(10 ** 30), 10 ** 30, 1j, "", "no such", b"", b"ab", bytearray(b"ab"), memoryview(b"ab"),
         {}, {0: 1}, set(), {0, 1}, frozenset((0, 1)), range(3), slice(0, 2), object(), int, tuple, Shape, CrewError,
-        THREE, NoShape("names", 0), ValueError("no"), len, steps, lambda: 0, steps(), iter([]), zip(), enumerate([]),
+        THREE, WEEK, PLAN, Calendar, NoShape("names", 0), ValueError("no"), len, steps, lambda: 0, steps(), iter([]), zip(), enumerate([]),
         reversed([]), {}.items(), {}.keys(), map(len, []), Ellipsis, NotImplemented, looped(), [None], (None,),
         [looped()], (looped(),), type, property(), "".join, random,
     ]
@@ -320,6 +327,51 @@ def some_durations(rnd, many):
 def fields(error):
     """What an error was raised with, by the names of its fields."""
     return dict(vars(error))
+
+
+def raised(call):
+    """The class and the fields of the error of the package that a call raises, None if it raises none."""
+    try:
+        call()
+    except CrewError as error:
+        return type(error), fields(error)
+    return None
+
+
+def wrong_graphs():
+    """What is no graph of three activities, each with the index that NoGraph tells."""
+    rows = [(value, -1) for value in no_rows() + [{(0, 1): 1}, {(0, 1)}, "01"]]
+    for value in wrong_pairs(3) + [(1, 0), (2, 0), (2, 1)]:
+        rows += [([value], 0), ((value,), 0), ([(0, 2), value, (0, 2), None], 1)]
+    return rows + [([(0, 1), (1, 2), (0, 1)], 2), (((0, 1), (0, 1), (1, 0)), 1), ([(0, 1), (0, 2), (1, 2), (0, 2)], 3)]
+
+
+def cliques(pairs, many):
+    """All sets of activities of which each two are a pair."""
+    return [some for some in every_set(many) if all(pair in pairs for pair in combinations(some, 2))]
+
+
+def greatest(sets):
+    """Those of some sets that are part of no other one, in their order."""
+    return [some for some in sets if not any(set(some) < set(other) for other in sets)]
+
+
+def slow_height(pairs, some):
+    """The height of a set, and the first set of so many members that shows it."""
+    parts = [part for size in range(len(some) + 1) for part in combinations(some, size)]
+    told = [part for part in parts if all(pair in pairs for pair in combinations(part, 2))]
+    most = max(len(part) for part in told)
+    return most, [part for part in told if len(part) == most][0]
+
+
+def slow_time(pairs, durations):
+    """The time of a graph, as a Fraction."""
+    return max(sum(fraction(durations[a]) for a in some) for some in cliques(pairs, len(durations)))
+
+
+def on_set(some, many):
+    """Durations of 1 on a set and of 0 elsewhere."""
+    return tuple(1 if a in some else 0 for a in range(many))
 
 
 def wrong_amounts():

@@ -1,8 +1,8 @@
-"""The examples of the document that need the modules of shapes, orders, graphs, schedules, lengths and bounds."""
+"""The examples of the document that need the modules that are written so far."""
 
 import unittest
 
-from crewlags import errors
+from crewlags import beside, boxes, calendars, errors, mixes, projects, shapes, steady, times
 
 BLOCKS = '''
 >>> from crewlags.shapes import Shape, allowed_sets, excess, least_forbidden
@@ -47,7 +47,50 @@ raises NoShape('before', 1)
 >>> shape = Shape(("a", "b", "c"), machines=((2, (1, 1, 1)),))
 >>> [critical(shape, (4, 3, 2)), longer_at(shape, [(0, 1), (1, 2)], [(0, 1)]), longer_at(shape, [(0, 1)], [(0, 1), (1, 2)])]
 [[1, 2], (0, 1, 1), None]
+
+>>> from crewlags.shapes import Shape
+>>> from crewlags.steady import ratio, steadiest, worst
+>>> shape = Shape(("a", "b", "c"), machines=((2, (1, 1, 1)),))
+>>> [worst(shape, [(0, 1)]), steadiest(shape), ratio(shape, [(0, 1)], [(0, 2)])]
+[(2, (0, 1)), (2, [(0, 1)]), (2, (0, 1))]
+
+>>> from crewlags.mixes import blind, worst_mix
+>>> from crewlags.shapes import Shape
+>>> shape = Shape(("a", "b", "c"), machines=((2, (1, 1, 1)),))
+>>> mix = [([(0, 1)], (1, 2)), ([(0, 2)], (1, 2))]
+>>> [blind(shape)[0], worst_mix(shape, mix)]
+[(4, 3), ((3, 2), (0, 1))]
 '''
+
+# what single points of the document tell, each with the value
+TOLD = (
+    (
+        's = Shape(("a", "b", "c"), machines=((2, (1, 1, 1)), (9, (1, 2, 3))), crew=(("x",), ("x",)),'
+        ' asks=((("x", 1),), (("x", 1),), (("x", 1),)))',
+        "idle(s)", [("machine", 0), ("machine", 1), ("ask", 0, "x"), ("ask", 1, "x"), ("ask", 2, "x")],
+        "enough(s)", [((), (0, 1))], "capacities(s)", [(2, None), (5, None)],
+    ),
+    (
+        'shape = Shape(("a", "b", "c"), machines=((2, (1, 1, 1)),)); box = ((1, 2), (1, 3), (1, 1))',
+        "least_and_greatest(shape, box)", (2, 3), "regret(shape, [(0, 1)], box)", (2, (2, 3, 1), (0, 1)),
+        "calmest(shape, box)", (1, [[(0, 2)], [(1, 2)]]), "on_greatest(shape, [(0, 2)], box)", ((0, 1, 2), ()),
+        "worst(shape, [(0, 1)])", (2, (0, 1)), "steadiest(shape)", (2, [(0, 1)]), "blind(shape)[0]", (4, 3),
+    ),
+    (
+        "c = Calendar((True, True, True, False), changes=((1, False), (3, True)))",
+        "[slot for slot in range(9) if is_work(c, slot)]", [0, 2, 3, 4, 5, 6, 8],
+        "end_of(c, 0, 3)", 4, "end_of(c, 1, 1)", None, "latest_start(c, 8, 2)", 5, "turn_of(c)", (4, 4),
+    ),
+    (
+        'p = Project(("a", "b"), 9, (), (), (((2, (), (), 0),), ((3, (), (), 0),)),'
+        ' calendars=(None, Calendar((True, False))), lags=(("end", 0, "start", 1, 0, 1),))',
+        "possible_starts(p, (0, 0), 1)", [0, 2, 4], "times(p, (0, 0))", ((0, 2), (2, 4)),
+        "times(p, (0, 0), most=6)", None,
+        'check_derivation(p, (0, 0), [(1, 2, ("lag", 0))], most=6)', None,
+    ),
+)
+
+MODULES = (beside, boxes, calendars, mixes, projects, shapes, steady, times)
 
 
 def shown(lines):
@@ -65,11 +108,20 @@ def shown(lines):
 class Examples(unittest.TestCase):
     def test_all_blocks(self):
         blocks = BLOCKS.strip().split("\n\n")
-        self.assertEqual(len(blocks), 8)
+        self.assertEqual(len(blocks), 10)
         for block in blocks:
             *lines, told = block.split("\n")
             self.assertTrue(all(line.startswith(">>> ") for line in lines))
             self.assertEqual(shown([line[4:] for line in lines]), told)
+
+    def test_what_single_points_tell(self):
+        for first, *rows in TOLD:
+            names = {}
+            for module in MODULES:
+                names.update(vars(module))
+            exec(first, names)
+            for line, told in zip(rows[::2], rows[1::2]):
+                self.assertEqual(eval(line, names), told, line)
 
 
 if __name__ == "__main__":

@@ -5,9 +5,11 @@ import importlib
 import inspect
 import unittest
 
+from crewlags.calendars import Calendar
 from crewlags.errors import NoShape
+from crewlags.projects import Project
 from crewlags.shapes import Shape
-from tests.support import FOUR, THREE, fields, odd_values
+from tests.support import FOUR, PLAN, THREE, WEEK, fields, odd_values
 
 NAMES = {
     "shapes": {
@@ -37,15 +39,58 @@ NAMES = {
         "too_heavy": ("shape", "weights"), "heaviest": ("shape", "weights"), "best_bound": ("shape", "durations"),
         "check_bound": ("shape", "durations", "bound"),
     },
+    "steady": {
+        "height": ("shape", "graph", "some"), "worst": ("shape", "graph"), "ratio": ("shape", "one", "other"),
+        "steadiest": ("shape",),
+    },
+    "mixes": {
+        "mean_time": ("shape", "mix", "durations"), "worst_mix": ("shape", "mix"), "against": ("shape", "sets"),
+        "blind": ("shape",), "check_blind": ("shape", "answer"),
+    },
+    "beside": {
+        "longer_for": ("shape", "other"), "parted": ("shape", "other"), "idle": ("shape",), "enough": ("shape",),
+        "capacities": ("shape",),
+    },
+    "boxes": {
+        "least_and_greatest": ("shape", "box"), "regret": ("shape", "graph", "box"), "calmest": ("shape", "box"),
+        "always_best": ("shape", "box"), "on_greatest": ("shape", "graph", "box"),
+    },
+    "calendars": {
+        "is_work": ("calendar", "slot"), "next_work": ("calendar", "slot"),
+        "work_between": ("calendar", "start", "end"), "end_of": ("calendar", "start", "work"),
+        "latest_start": ("calendar", "end", "work"), "first_difference": ("calendar", "other"),
+        "turn_of": ("calendar",), "moved": ("calendar", "many"),
+    },
+    "projects": {"shape_of": ("project", "choice")},
+    "times": {
+        "possible_starts": ("project", "choice", "a", "most"), "times": ("project", "choice", "ahead", "most"),
+        "derivation": ("project", "choice", "ahead", "most"),
+        "check_derivation": ("project", "choice", "steps", "ahead", "most"),
+    },
 }
 
-# for the shape FOUR: arguments that are right, lists where lists may be
+# what stands behind a star, and what it is if it is left out
+LEFT_OUT = {"ahead": (), "most": None}
+
+# for the shape FOUR, the calendar WEEK and the project PLAN: arguments that are right, lists where lists may be
 GIVEN = {
     "some": (1, 2), "value": [(0, 1), (2, 1), (2, 3)], "pairs": [(1, 2), (2, 3), (1, 2)],
     "order": [(2, 3), (0, 1), (2, 1)], "graph": [(1, 2), (0, 1), (2, 3)], "one": [(0, 2), (0, 1)], "other": [(0, 1)],
     "durations": (3, (1, 2), 0, 4), "starts": (0, 3, 3, (7, 2)), "weights": ((1, 2), 0, 0, (2, 3)), "a": 2,
-    "bound": (4, (0, 0, 0, 1), [((0, 3), 3), ((1, 3), 1)]),
+    "bound": (4, (0, 0, 0, 1), [((0, 3), 3), ((1, 3), 1)]), "mix": [([(1, 2), (0, 1), (2, 3)], (1, 2)), ([], (1, 2))],
+    "sets": [((0, 2), (1, 3)), ((3,), (2, 3))], "box": ((0, 1), (1, 1), ((1, 2), 2), (0, 0)), "slot": 5, "start": 2,
+    "end": 9, "work": 3, "many": 4, "choice": (0, 0), "ahead": [(0, 1)], "most": 6, "steps": [(1, 2, ("lag", 0))],
+    "answer": (1, [([(0, 1), (1, 2), (2, 3)], 1)], [((0, 3), 1)]),
 }
+
+# where a parameter of this name is something else
+OTHERS = {
+    "check_bound": {"durations": (3, 0, 0, 4)}, "schedule_order": {"starts": (0, 3, 3, 3)},
+    "longer_for": {"other": FOUR}, "parted": {"other": FOUR}, "possible_starts": {"a": 1},
+    "first_difference": {"other": Calendar((True, True, False, True))},
+}
+
+KEPT = {"shape": FOUR, "calendar": WEEK, "project": PLAN}
 
 
 def all_functions():
@@ -58,11 +103,9 @@ def all_functions():
 
 def given(name, parameters):
     """Right arguments by name, all of them new."""
-    told = {one: FOUR if one == "shape" else copy.deepcopy(GIVEN[one]) for one in parameters}
-    if name == "check_bound":
-        told["durations"] = (3, 0, 0, 4)
-    if name == "schedule_order":
-        told["starts"] = (0, 3, 3, 3)
+    told = {one: copy.deepcopy(GIVEN[one]) for one in parameters if one in GIVEN}
+    told.update({one: value for one, value in KEPT.items() if one in parameters})
+    told.update(copy.deepcopy(OTHERS.get(name, {})))
     return told
 
 
@@ -72,6 +115,10 @@ class Interface(unittest.TestCase):
             signature = inspect.signature(function)
             self.assertEqual(tuple(signature.parameters), parameters, name)
             for parameter in signature.parameters.values():
+                if parameter.name in LEFT_OUT:
+                    self.assertEqual(parameter.kind, parameter.KEYWORD_ONLY)
+                    self.assertEqual(parameter.default, LEFT_OUT[parameter.name])
+                    continue
                 self.assertEqual(parameter.kind, parameter.POSITIONAL_OR_KEYWORD)
                 self.assertIs(parameter.default, parameter.empty)
 
@@ -82,11 +129,15 @@ class Interface(unittest.TestCase):
                 self.assertTrue(inspect.isfunction(function))
                 self.assertEqual(function.__module__, "crewlags." + module)
         self.assertEqual(Shape.__module__, "crewlags.shapes")
+        self.assertEqual(Calendar.__module__, "crewlags.calendars")
+        self.assertEqual(Project.__module__, "crewlags.projects")
 
     def test_by_name_and_by_position_is_the_same(self):
         for function, name, parameters in all_functions():
             told = given(name, parameters)
-            self.assertEqual(function(**told), function(*[told[one] for one in parameters]), name)
+            named = {one: told[one] for one in parameters if one in LEFT_OUT}
+            placed = [told[one] for one in parameters if one not in named]
+            self.assertEqual(function(**told), function(*placed, **named), name)
 
     def test_the_parts_of_a_shape_behind_the_star_are_told_by_name_alone(self):
         signature = inspect.signature(Shape)
@@ -115,10 +166,10 @@ class Interface(unittest.TestCase):
         for function, name, parameters in all_functions():
             told = given(name, parameters)
             kept = copy.deepcopy(told)
-            before = copy.deepcopy(vars(FOUR))
+            before = [copy.deepcopy(vars(value)) for value in KEPT.values()]
             function(**told)
             self.assertEqual(told, kept, name)
-            self.assertEqual(vars(FOUR), before, name)
+            self.assertEqual([vars(value) for value in KEPT.values()], before, name)
 
     def test_equal_arguments_give_equal_results(self):
         for function, name, parameters in all_functions():
@@ -149,12 +200,13 @@ class Interface(unittest.TestCase):
         self.assertEqual(shape, kept)
         self.assertEqual(shape.names, ("a", "b"))
 
-    def test_a_shape_is_equal_to_nothing_of_another_kind(self):
-        for value in odd_values() + [vars(THREE), THREE.names, "shape", ()]:
-            if value is not THREE:
-                self.assertIs(THREE == value, False)
-                self.assertIs(THREE != value, True)
-                self.assertIs(value == THREE, False)
+    def test_objects_are_equal_to_nothing_of_another_kind(self):
+        for one in (THREE, WEEK, PLAN):
+            for value in odd_values() + [vars(one), tuple(vars(one).values()), "shape", (), THREE.names]:
+                if value is not one:
+                    self.assertIs(one == value, False)
+                    self.assertIs(one != value, True)
+                    self.assertIs(value == one, False)
 
 
 def spoil(value):

@@ -3,7 +3,6 @@
 import random
 import unittest
 from fractions import Fraction
-from itertools import combinations
 
 from crewlags.errors import NoActivity, NoDurations, NoGraph
 from crewlags.graphs import least_graphs, orient
@@ -12,18 +11,13 @@ from crewlags.orders import graph_of
 from crewlags.schedules import earliest, length_of, schedule_faults
 from crewlags.shapes import Shape
 from tests.support import (
-    FOUR, THREE, all_least, end_of, every_graph, every_order, every_pair, every_set, fields, fraction, least_length,
+    FOUR, THREE, all_least, cliques, end_of, every_graph, every_order, every_pair, fields, fraction, least_length,
     longest_path, looped, no_rows, number, odd_values, orders_of, ring_of_seven, side_by_side, some_durations,
     some_shape, wrong_amounts,
 )
 
 ORDERS = {many: every_order(many) for many in (1, 2, 3, 4)}
 GREAT = 10 ** 60
-
-
-def cliques(pairs, many):
-    """All sets of activities of which each two are a pair."""
-    return [some for some in every_set(many) if all(pair in pairs for pair in combinations(some, 2))]
 
 
 def told_time(pairs, durations):
