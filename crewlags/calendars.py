@@ -6,8 +6,9 @@ counted by the whole turns of the cycle, and the changes, of which there are few
 
 from math import lcm
 
-from crewlags.errors import NoCalendar, NoNumber
+from crewlags.errors import NoCalendar
 from crewlags.kinds import is_row, is_whole
+from crewlags.needs import need_number
 
 LONGEST_CYCLE = 14
 MOST_CHANGES = 10
@@ -63,12 +64,6 @@ def need_calendar(calendar, part):
     """Raises NoCalendar if it is no Calendar."""
     if not isinstance(calendar, Calendar):
         raise NoCalendar(part, -1)
-
-
-def need_number(value, part):
-    """Raises NoNumber if it is no integer from 0 on."""
-    if not is_whole(value) or value < 0:
-        raise NoNumber(part)
 
 
 def working_places(cycle):

@@ -10,6 +10,11 @@ def is_whole(value):
     return isinstance(value, int) and not isinstance(value, bool)
 
 
+def is_natural(value):
+    """Whether a value is an integer from 0 on."""
+    return is_whole(value) and value >= 0
+
+
 def is_within(value, low, high):
     """Whether a value is an integer from low to high."""
     return is_whole(value) and low <= value <= high

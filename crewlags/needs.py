@@ -1,8 +1,8 @@
-"""What arguments need to be: durations, starts, weights and indexes of activities."""
+"""What arguments need to be: durations, starts, weights, indexes of activities, and integers."""
 
 from crewlags.amounts import amounts_fault
-from crewlags.errors import NoActivity, NoDurations, NoStarts, NoWeights
-from crewlags.kinds import is_index
+from crewlags.errors import NoActivity, NoDurations, NoNumber, NoStarts, NoWeights
+from crewlags.kinds import is_index, is_natural
 
 
 def need_durations(durations, least, most):
@@ -30,3 +30,15 @@ def need_activity(one, many):
     """Raises NoActivity if it is no index of one of so many activities."""
     if not is_index(one, many):
         raise NoActivity(one)
+
+
+def need_number(value, part):
+    """Raises NoNumber if it is no integer from 0 on."""
+    if not is_natural(value):
+        raise NoNumber(part)
+
+
+def need_limit(value, part):
+    """Raises NoNumber if it is neither None nor an integer from 0 on."""
+    if value is not None:
+        need_number(value, part)

@@ -37,9 +37,19 @@ def end_by(calendar, start, work):
     return start + work if calendar is None else end_in(calendar, start, work)
 
 
+def calendar_of(project, a):
+    """The calendar of an activity, or None."""
+    return project.calendars[a] if project.calendars else None
+
+
+def release_and_deadline(project, a):
+    """The release and the deadline of an activity."""
+    return project.windows[a] if project.windows else (0, None)
+
+
 def window_of(project, a, most):
     """The release of an activity, and the last time at which it may end."""
-    release, deadline = project.windows[a] if project.windows else (0, None)
+    release, deadline = release_and_deadline(project, a)
     lasts = [last for last in (deadline, project.horizon, most) if last is not None]
     return release, min(lasts)
 
@@ -54,10 +64,9 @@ def keeps_own(lags, a, spot):
     return True
 
 
-def spots_of(project, choice, a, most):
-    """The spots of an activity, ascending."""
-    work = chosen_modes(project, choice)[a][0]
-    calendar = project.calendars[a] if project.calendars else None
+def work_spots(project, a, work, most):
+    """The spots of an activity that is of some work, ascending."""
+    calendar = calendar_of(project, a)
     release, last = window_of(project, a, most)
     spots = []
     for start in range(release, last + 1):
@@ -65,6 +74,11 @@ def spots_of(project, choice, a, most):
         if end is not None and end <= last and keeps_own(project.lags, a, (start, end)):
             spots.append((start, end))
     return spots
+
+
+def spots_of(project, choice, a, most):
+    """The spots of an activity, ascending."""
+    return work_spots(project, a, chosen_modes(project, choice)[a][0], most)
 
 
 def all_spots(project, choice, most):

@@ -1,8 +1,8 @@
 """The times of a project with chosen modes: possible starts, least and greatest ones, and why there are none."""
 
-from crewlags.errors import NoAhead, NoDerivation, NoNumber
-from crewlags.kinds import is_index, is_whole, pairs_fault
-from crewlags.needs import need_activity
+from crewlags.errors import NoAhead, NoDerivation
+from crewlags.kinds import is_index, is_natural, is_whole, pairs_fault
+from crewlags.needs import need_activity, need_limit
 from crewlags.projects import need_choice, need_project
 from crewlags.ties import all_spots, all_ties, lift, lower, spots_of
 
@@ -19,18 +19,12 @@ def need_ahead(project, ahead):
         raise NoAhead(at)
 
 
-def need_most(most):
-    """Raises NoNumber if it is neither None nor an integer from 0 on."""
-    if most is not None and (not is_whole(most) or most < 0):
-        raise NoNumber("most")
-
-
 def need_moment(project, choice, ahead, most):
     """Raises an error unless all of them are what they have to be."""
     need_project(project)
     need_choice(project, choice)
     need_ahead(project, ahead)
-    need_most(most)
+    need_limit(most, "most")
 
 
 def is_window_reason(value):
@@ -59,7 +53,7 @@ def is_step(value, ties, many):
     if not isinstance(value, tuple) or len(value) != 3:
         return False
     a, time, reason = value
-    if not is_index(a, many) or not is_whole(time) or time < 0 or not isinstance(reason, tuple):
+    if not is_index(a, many) or not is_natural(time) or not isinstance(reason, tuple):
         return False
     return is_window_reason(reason) or (is_tie_reason(reason) and tie_of(value, ties) is not None)
 
@@ -99,7 +93,7 @@ def possible_starts(project, choice, a, *, most=None):
     need_project(project)
     need_choice(project, choice)
     need_activity(a, len(project.names))
-    need_most(most)
+    need_limit(most, "most")
     return [start for start, _ in spots_of(project, choice, a, most)]
 
 

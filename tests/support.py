@@ -22,6 +22,11 @@ PLAN = Project(
     ("a", "b"), 9, (), (), (((2, (), (), 0),), ((3, (), (), 0),)), calendars=(None, Calendar((True, False))),
     lags=(("end", 0, "start", 1, 0, 1),),
 )
+# the project of the examples of [58] and [73]
+DIGGING = Project(
+    ("a", "b"), 20, (3,), (), (((2, (2,), (), 5),), ((3, (2,), (), 1),)), overhead=10, late=(None, (4, 7)),
+    crew=(("dig",), ("dig", "lift")), asks=((("dig", 1),), (("lift", 1),)),
+)
 
 
 def side_by_side(many, most):

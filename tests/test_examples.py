@@ -2,7 +2,7 @@
 
 import unittest
 
-from crewlags import beside, boxes, calendars, errors, mixes, projects, shapes, steady, times
+from crewlags import beside, boxes, calendars, counts, errors, front, mixes, plans, projects, rotas, shapes, steady, times
 
 BLOCKS = '''
 >>> from crewlags.shapes import Shape, allowed_sets, excess, least_forbidden
@@ -60,6 +60,26 @@ raises NoShape('before', 1)
 >>> mix = [([(0, 1)], (1, 2)), ([(0, 2)], (1, 2))]
 >>> [blind(shape)[0], worst_mix(shape, mix)]
 [(4, 3), ((3, 2), (0, 1))]
+
+>>> from crewlags.plans import account, loads, plan_faults
+>>> from crewlags.projects import Project
+>>> p = Project(("a", "b"), 20, (3,), (), (((2, (2,), (), 5),), ((3, (2,), (), 1),)), overhead=10, late=(None, (4, 7)), crew=(("dig",), ("dig", "lift")), asks=((("dig", 1),), (("lift", 1),)))
+>>> [plan_faults(p, (0, 0), (0, 1)), account(p, (0, 0), (0, 2)), loads(p, (0, 0), (0, 2), 0)]
+[[('together', (0, 1), 1)], (5, 63, ()), [(0, 2), (5, 0)]]
+
+>>> from crewlags.front import cheapest, cost_curve, trade_offs
+>>> from crewlags.projects import Project
+>>> first = ((2, (1,), (2,), 1), (4, (1,), (0,), 1))
+>>> second = ((3, (1,), (1,), 0), (5, (0,), (1,), 4))
+>>> p = Project(("a", "b"), 20, (1,), (3,), (first, second), overhead=1)
+>>> [[row[0] for row in trade_offs(p)], cost_curve(p), cheapest(p, most=6)[0]]
+[[(5, 6, (3,)), (5, 10, (1,)), (7, 8, (1,))], [(5, 6)], 6]
+
+>>> from crewlags.counts import count_plans
+>>> from crewlags.projects import Project
+>>> p = Project(("a", "b"), 20, (1,), (), (((2, (1,), (), 1),), ((3, (1,), (), 0),)))
+>>> [count_plans(p, (0, 0), most=most) for most in (4, 5, 6)]
+[0, 2, 6]
 '''
 
 # what single points of the document tell, each with the value
@@ -88,9 +108,23 @@ TOLD = (
         "times(p, (0, 0), most=6)", None,
         'check_derivation(p, (0, 0), [(1, 2, ("lag", 0))], most=6)', None,
     ),
+    (
+        'p = Project(("a", "b"), 20, (3,), (), (((2, (2,), (), 5),), ((3, (2,), (), 1),)), overhead=10,'
+        ' late=(None, (4, 7)), crew=(("dig",), ("dig", "lift")), asks=((("dig", 1),), (("lift", 1),)))',
+        "plan_faults(p, (0, 0), (0, 1))", [("together", (0, 1), 1)], "account(p, (0, 0), (0, 2))", (5, 63, ()),
+        "loads(p, (0, 0), (0, 2), 0)", [(0, 2), (5, 0)],
+        'check_rota(p, (0, 0), (0, 2), [(0, 2, 0, 0, "dig"), (2, 5, 1, 1, "lift")])', None,
+        "check_rota(p, (0, 0), (0, 2), rota(p, (0, 0), (0, 2)))", None,
+    ),
+    (
+        'p = Project(("a", "b"), 20, (1,), (3,), (((2, (1,), (2,), 1), (4, (1,), (0,), 1)),'
+        ' ((3, (1,), (1,), 0), (5, (0,), (1,), 4))), overhead=1)',
+        "[row[0] for row in trade_offs(p)]", [(5, 6, (3,)), (5, 10, (1,)), (7, 8, (1,))], "cost_curve(p)", [(5, 6)],
+        "count_plans(p, (0, 0), most=5)", 2, "shortest(p)[0]", 5, "cheapest(p)[0]", 6,
+    ),
 )
 
-MODULES = (beside, boxes, calendars, mixes, projects, shapes, steady, times)
+MODULES = (beside, boxes, calendars, counts, front, mixes, plans, projects, rotas, shapes, steady, times)
 
 
 def shown(lines):
@@ -108,7 +142,7 @@ def shown(lines):
 class Examples(unittest.TestCase):
     def test_all_blocks(self):
         blocks = BLOCKS.strip().split("\n\n")
-        self.assertEqual(len(blocks), 10)
+        self.assertEqual(len(blocks), 13)
         for block in blocks:
             *lines, told = block.split("\n")
             self.assertTrue(all(line.startswith(">>> ") for line in lines))

@@ -6,10 +6,10 @@ import inspect
 import unittest
 
 from crewlags.calendars import Calendar
-from crewlags.errors import NoShape
+from crewlags.errors import NoProject, NoShape
 from crewlags.projects import Project
 from crewlags.shapes import Shape
-from tests.support import FOUR, PLAN, THREE, WEEK, fields, odd_values
+from tests.support import DIGGING, FOUR, PLAN, THREE, WEEK, fields, odd_values
 
 NAMES = {
     "shapes": {
@@ -67,10 +67,20 @@ NAMES = {
         "derivation": ("project", "choice", "ahead", "most"),
         "check_derivation": ("project", "choice", "steps", "ahead", "most"),
     },
+    "plans": {
+        "plan_ends": ("project", "choice", "starts"), "plan_faults": ("project", "choice", "starts"),
+        "account": ("project", "choice", "starts"), "loads": ("project", "choice", "starts", "machine"),
+    },
+    "rotas": {"rota": ("project", "choice", "starts"), "check_rota": ("project", "choice", "starts", "shifts")},
+    "front": {
+        "trade_offs": ("project",), "cost_curve": ("project",), "shortest": ("project", "cost"),
+        "cheapest": ("project", "most"),
+    },
+    "counts": {"count_plans": ("project", "choice", "most")},
 }
 
 # what stands behind a star, and what it is if it is left out
-LEFT_OUT = {"ahead": (), "most": None}
+LEFT_OUT = {"ahead": (), "most": None, "cost": None}
 
 # for the shape FOUR, the calendar WEEK and the project PLAN: arguments that are right, lists where lists may be
 GIVEN = {
@@ -80,6 +90,7 @@ GIVEN = {
     "bound": (4, (0, 0, 0, 1), [((0, 3), 3), ((1, 3), 1)]), "mix": [([(1, 2), (0, 1), (2, 3)], (1, 2)), ([], (1, 2))],
     "sets": [((0, 2), (1, 3)), ((3,), (2, 3))], "box": ((0, 1), (1, 1), ((1, 2), 2), (0, 0)), "slot": 5, "start": 2,
     "end": 9, "work": 3, "many": 4, "choice": (0, 0), "ahead": [(0, 1)], "most": 6, "steps": [(1, 2, ("lag", 0))],
+    "machine": 0, "shifts": [(2, 5, 1, 1, "lift"), (0, 2, 0, 0, "dig")], "cost": 70,
     "answer": (1, [([(0, 1), (1, 2), (2, 3)], 1)], [((0, 3), 1)]),
 }
 
@@ -88,6 +99,11 @@ OTHERS = {
     "check_bound": {"durations": (3, 0, 0, 4)}, "schedule_order": {"starts": (0, 3, 3, 3)},
     "longer_for": {"other": FOUR}, "parted": {"other": FOUR}, "possible_starts": {"a": 1},
     "first_difference": {"other": Calendar((True, True, False, True))},
+    "plan_ends": {"starts": (0, 1)}, "plan_faults": {"project": DIGGING, "starts": (0, 1)},
+    "account": {"project": DIGGING, "starts": (0, 1)}, "loads": {"project": DIGGING, "starts": (0, 1)},
+    "rota": {"project": DIGGING, "starts": (0, 2)}, "check_rota": {"project": DIGGING, "starts": (0, 2)},
+    "trade_offs": {"project": DIGGING}, "cost_curve": {"project": DIGGING}, "shortest": {"project": DIGGING},
+    "cheapest": {"project": DIGGING}, "count_plans": {"project": DIGGING},
 }
 
 KEPT = {"shape": FOUR, "calendar": WEEK, "project": PLAN}
@@ -161,6 +177,19 @@ class Interface(unittest.TestCase):
                     with self.assertRaises(NoShape) as caught:
                         function(**others)
                     self.assertEqual(fields(caught.exception), {"part": "shape", "index": -1})
+
+    def test_no_project_comes_first_for_each_function(self):
+        for function, name, parameters in all_functions():
+            if parameters[0] != "project":
+                continue
+            for value in odd_values() + [(), [], "abc"]:
+                if isinstance(value, Project):
+                    continue
+                for others in (given(name, parameters), {one: object() for one in parameters}):
+                    others["project"] = value
+                    with self.assertRaises(NoProject) as caught:
+                        function(**others)
+                    self.assertEqual(fields(caught.exception), {"part": "project", "index": -1})
 
     def test_arguments_are_not_changed(self):
         for function, name, parameters in all_functions():

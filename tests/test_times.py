@@ -10,6 +10,7 @@ from crewlags.calendars import Calendar
 from crewlags.errors import NoActivity, NoAhead, NoChoice, NoDerivation, NoNumber, NoProject
 from crewlags.projects import Project
 from crewlags.times import check_derivation, derivation, possible_starts, times
+from tests.project_support import keeps_lag, marks, plain, set_up, some_project
 from tests.support import PLAN, looped, no_rows, odd_values, raised, wrong_pairs
 
 GREAT = 10 ** 40
@@ -20,83 +21,7 @@ FUNCTIONS = {
 }
 
 
-def plain(works, horizon=20, **parts):
-    """A project with one mode for each activity, of told works."""
-    modes = tuple(((work, (), (), 0),) for work in works)
-    return Project(tuple("abcde"[:len(works)]), horizon, (), (), modes, **parts)
-
-
-def some_calendar(rnd):
-    """A calendar, or None."""
-    if rnd.random() < 0.4:
-        return None
-    cycle = [rnd.random() < 0.7 for _ in range(rnd.randint(1, 5))]
-    cycle[0] = True
-    slots = sorted(rnd.sample(range(12), rnd.randint(0, 3)))
-    return Calendar(cycle, changes=[(slot, rnd.random() < 0.5) for slot in slots])
-
-
-def some_lag(rnd, many):
-    """A lag; sometimes from an activity to itself, sometimes with a high."""
-    low = rnd.randint(-6, 5)
-    high = None if rnd.random() < 0.5 else low + rnd.randint(0, 6)
-    return rnd.choice(("start", "end")), rnd.randrange(many), rnd.choice(("start", "end")), rnd.randrange(many), low, high
-
-
-def some_project(rnd, many):
-    """A small project with a choice, pairs ahead and a most."""
-    modes = tuple(tuple((rnd.randint(0, 4), (), (), 0) for _ in range(rnd.randint(1, 2))) for _ in range(many))
-    parts = {"lags": [some_lag(rnd, many) for _ in range(rnd.randint(0, 3))]}
-    if rnd.random() < 0.6:
-        parts["calendars"] = [some_calendar(rnd) for _ in range(many)]
-    if rnd.random() < 0.4:
-        parts["windows"] = [(rnd.randint(0, 4), rnd.choice((None, rnd.randint(5, 12)))) for _ in range(many)]
-    families = [rnd.randint(0, 2) for _ in range(many)] if rnd.random() < 0.7 else ()
-    kinds = max(families, default=0) + 1
-    if many > 1 and rnd.random() < 0.7:
-        members = tuple(sorted(rnd.sample(range(many), rnd.randint(2, many))))
-        table = tuple(tuple(rnd.randint(0, 3) for _ in range(kinds)) for _ in range(kinds))
-        parts["singles"] = [(members, table)]
-    project = Project(tuple("abcd"[:many]), rnd.randint(8, 14), (), (), modes, families=families, **parts)
-    choice = tuple(rnd.randrange(len(row)) for row in modes)
-    pairs = [(a, b) for a in range(many) for b in range(many) if a != b]
-    ahead = [rnd.choice(pairs) for _ in range(rnd.randint(0, 2))] if pairs else []
-    return project, choice, ahead, rnd.choice((None, None, rnd.randint(3, 14)))
-
-
 CASES = [some_project(random.Random(seed), 1 + seed % 3) for seed in range(500)]
-
-
-def slow_end(project, choice, a, start):
-    """The end of an activity, slot by slot, None if it cannot start."""
-    work = project.modes[a][choice[a]][0]
-    calendar = project.calendars[a] if project.calendars else None
-    if calendar is None or work == 0:
-        return start + work
-
-    def works(slot):
-        told = dict(calendar.changes)
-        return told[slot] if slot in told else calendar.cycle[slot % len(calendar.cycle)]
-
-    if not works(start):
-        return None
-    slot = start
-    while work:
-        work -= works(slot)
-        slot += 1
-    return slot
-
-
-def marks(project, choice, a, start):
-    """The start and the end of an activity by their words."""
-    return {"start": start, "end": slow_end(project, choice, a, start)}
-
-
-def keeps_lag(lag, first, second):
-    """Whether two activities keep a lag, given by their words."""
-    one, _, other, _, low, high = lag
-    later = second[other] - first[one]
-    return later >= low and (high is None or later <= high)
 
 
 def slow_possible(project, choice, a, most):
@@ -112,14 +37,6 @@ def slow_possible(project, choice, a, most):
         if all(keeps_lag(lag, told, told) for lag in project.lags if lag[1] == lag[3] == a):
             found.append(start)
     return found
-
-
-def set_up(project, a, b):
-    """The set-up from one activity to another one."""
-    for members, table in project.singles:
-        if a in members and b in members:
-            return table[project.families[a]][project.families[b]] if project.families else table[0][0]
-    return 0
 
 
 def keeps_times(project, choice, ahead, starts):
