@@ -88,6 +88,12 @@ def steps_fault(steps, spots, ties):
     return None
 
 
+def places_between(spots, ties):
+    """The indexes of the least and those of the greatest spots that keep all ties, or None."""
+    least, _ = lift(spots, ties)
+    return None if least is None else (least, lower(spots, ties))
+
+
 def possible_starts(project, choice, a, *, most=None):
     """The ascending list of the possible starts of an activity."""
     need_project(project)
@@ -101,11 +107,9 @@ def times(project, choice, *, ahead=(), most=None):
     """The least and the greatest starts that keep the times, or None."""
     need_moment(project, choice, ahead, most)
     spots = all_spots(project, choice, most)
-    ties = all_ties(project, ahead)
-    places, _ = lift(spots, ties)
-    if places is None:
+    rows = places_between(spots, all_ties(project, ahead))
+    if rows is None:
         return None
-    rows = [places, lower(spots, ties)]
     return tuple([tuple([spots[a][at][0] for a, at in enumerate(row)]) for row in rows])
 
 

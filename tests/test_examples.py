@@ -1,8 +1,11 @@
-"""The examples of the document that need the modules that are written so far."""
+"""The examples of the document, word for word."""
 
 import unittest
 
-from crewlags import beside, boxes, calendars, counts, errors, front, mixes, plans, projects, rotas, shapes, steady, times
+from crewlags import (
+    beside, boxes, calendars, counts, errors, front, mixes, papers, plans, projects, repairs, rotas, shapes, steady, texts,
+    times,
+)
 
 BLOCKS = '''
 >>> from crewlags.shapes import Shape, allowed_sets, excess, least_forbidden
@@ -32,6 +35,12 @@ raises NoShape('before', 1)
 >>> (single(s), orient(s, [(0, 1), (1, 2), (2, 3)]), closed(s, [(1, 2), (2, 0)]))
 (('graph', [(0, 1), (1, 2), (2, 3)]), [(0, 1), (2, 1), (2, 3)], ('ring', (0, 1, 2)))
 
+>>> from crewlags.projects import Project
+>>> from crewlags.repairs import fewest_moved, good_row, least_shift, must_move, room, spans
+>>> p = Project(('a', 'b'), 20, (3,), (), (((2, (2,), (), 5),), ((3, (2,), (), 1),)), overhead=10, late=(None, (4, 7)), crew=(('dig',), ('dig', 'lift')), asks=((('dig', 1),), (('lift', 1),)))
+>>> (least_shift(p, (0, 0), (0, 1)), room(p, (0, 0), (1, 3)), spans(p, (0, 0)))
+((1, (0, 2)), [(1, 4), (3, 3)], (5, [(0, 3), (0, 2)]))
+
 >>> from crewlags.schedules import overlapping
 >>> overlapping((3, 0, 2), (0, 1, 3))
 [(0, 1)]
@@ -48,6 +57,12 @@ raises NoShape('before', 1)
 >>> [critical(shape, (4, 3, 2)), longer_at(shape, [(0, 1), (1, 2)], [(0, 1)]), longer_at(shape, [(0, 1)], [(0, 1), (1, 2)])]
 [[1, 2], (0, 1, 1), None]
 
+>>> from crewlags.plans import account, loads, plan_faults
+>>> from crewlags.projects import Project
+>>> p = Project(("a", "b"), 20, (3,), (), (((2, (2,), (), 5),), ((3, (2,), (), 1),)), overhead=10, late=(None, (4, 7)), crew=(("dig",), ("dig", "lift")), asks=((("dig", 1),), (("lift", 1),)))
+>>> [plan_faults(p, (0, 0), (0, 1)), account(p, (0, 0), (0, 2)), loads(p, (0, 0), (0, 2), 0)]
+[[('together', (0, 1), 1)], (5, 63, ()), [(0, 2), (5, 0)]]
+
 >>> from crewlags.shapes import Shape
 >>> from crewlags.steady import ratio, steadiest, worst
 >>> shape = Shape(("a", "b", "c"), machines=((2, (1, 1, 1)),))
@@ -60,12 +75,6 @@ raises NoShape('before', 1)
 >>> mix = [([(0, 1)], (1, 2)), ([(0, 2)], (1, 2))]
 >>> [blind(shape)[0], worst_mix(shape, mix)]
 [(4, 3), ((3, 2), (0, 1))]
-
->>> from crewlags.plans import account, loads, plan_faults
->>> from crewlags.projects import Project
->>> p = Project(("a", "b"), 20, (3,), (), (((2, (2,), (), 5),), ((3, (2,), (), 1),)), overhead=10, late=(None, (4, 7)), crew=(("dig",), ("dig", "lift")), asks=((("dig", 1),), (("lift", 1),)))
->>> [plan_faults(p, (0, 0), (0, 1)), account(p, (0, 0), (0, 2)), loads(p, (0, 0), (0, 2), 0)]
-[[('together', (0, 1), 1)], (5, 63, ()), [(0, 2), (5, 0)]]
 
 >>> from crewlags.front import cheapest, cost_curve, trade_offs
 >>> from crewlags.projects import Project
@@ -122,9 +131,28 @@ TOLD = (
         "[row[0] for row in trade_offs(p)]", [(5, 6, (3,)), (5, 10, (1,)), (7, 8, (1,))], "cost_curve(p)", [(5, 6)],
         "count_plans(p, (0, 0), most=5)", 2, "shortest(p)[0]", 5, "cheapest(p)[0]", 6,
     ),
+    (
+        'p = Project(("a", "b"), 9, (1,), (), (((2, (1,), (), 0),), ((3, (1,), (), 0),)))',
+        "paper_of(p, 5)", None, "fewest_leaves(p, 4)", 2, "flaw(p, 4, paper_of(p, 4))", None,
+        'flaw(p, 4, ("modes", 0, (("modes", 1, (("energy", 0, 0, 4),)),)))', None,
+    ),
+    (
+        'p = Project(("a", "b"), 20, (3,), (), (((2, (2,), (), 5),), ((3, (2,), (), 1),)), overhead=10,'
+        ' late=(None, (4, 7)), crew=(("dig",), ("dig", "lift")), asks=((("dig", 1),), (("lift", 1),)))',
+        "good_row(p, (0, 0))", (0, 2), "good_row(p, (0, 0), fixed=[(1, 1)])", (4, 1),
+        "must_move(p, (0, 0), (0, 1))", (), "fewest_moved(p, (0, 0), (0, 1))", ((0,), (4, 1)),
+        "least_shift(p, (0, 0), (0, 1))", (1, (0, 2)), "room(p, (0, 0), (1, 3))", [(1, 4), (3, 3)],
+        "spans(p, (0, 0))", (5, [(0, 3), (0, 2)]),
+    ),
+    (
+        'shape = Shape(("a", "b"), before=((0, 1),), machines=((3, (2, 2)),))',
+        "shape_text(shape)", "activity a\nactivity b\nbefore a b\nmachine 3 2 2\n", "read_shape(shape_text(shape)) == shape", True,
+    ),
 )
 
-MODULES = (beside, boxes, calendars, counts, front, mixes, plans, projects, rotas, shapes, steady, times)
+MODULES = (
+    beside, boxes, calendars, counts, front, mixes, papers, plans, projects, repairs, rotas, shapes, steady, texts, times,
+)
 
 
 def shown(lines):
@@ -142,7 +170,7 @@ def shown(lines):
 class Examples(unittest.TestCase):
     def test_all_blocks(self):
         blocks = BLOCKS.strip().split("\n\n")
-        self.assertEqual(len(blocks), 13)
+        self.assertEqual(len(blocks), 14)
         for block in blocks:
             *lines, told = block.split("\n")
             self.assertTrue(all(line.startswith(">>> ") for line in lines))

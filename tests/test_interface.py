@@ -6,6 +6,7 @@ import inspect
 import unittest
 
 from crewlags.calendars import Calendar
+from crewlags.desks import Desk
 from crewlags.errors import NoProject, NoShape
 from crewlags.projects import Project
 from crewlags.shapes import Shape
@@ -77,10 +78,36 @@ NAMES = {
         "cheapest": ("project", "most"),
     },
     "counts": {"count_plans": ("project", "choice", "most")},
+    "papers": {
+        "flaw": ("project", "most", "paper"), "paper_of": ("project", "most"), "fewest_leaves": ("project", "most"),
+    },
+    "repairs": {
+        "good_row": ("project", "choice", "fixed"), "must_move": ("project", "choice", "starts"),
+        "fewest_moved": ("project", "choice", "starts"), "least_shift": ("project", "choice", "starts"),
+        "room": ("project", "choice", "starts"), "spans": ("project", "choice"),
+    },
+    "texts": {"shape_text": ("shape",), "read_shape": ("text",)},
 }
 
+# each method of a desk with its parameters
+DESK = {
+    "shape_now": (), "add_pair": ("one", "other"), "drop_pair": ("index",), "put_machine": ("index", "capacity", "demands"),
+    "hire": ("skills",), "dismiss": ("index",), "put_asks": ("asks",), "undo": (), "redo": (), "moved_sets": (),
+}
+
+# each class that takes parts, with those ahead of the star and those behind it
+CLASSES = (
+    (Shape, ("names",), ("before", "machines", "crew", "asks")),
+    (Calendar, ("cycle",), ("changes",)),
+    (Project, ("names", "horizon", "machines", "stocks", "modes"),
+     ("calendars", "windows", "families", "lags", "singles", "crew", "asks", "overhead", "late")),
+)
+
 # what stands behind a star, and what it is if it is left out
-LEFT_OUT = {"ahead": (), "most": None, "cost": None}
+LEFT_OUT = {"ahead": (), "most": None, "cost": None, "fixed": ()}
+
+# functions that do not let it be left out
+ALWAYS_TOLD = ("flaw", "paper_of", "fewest_leaves")
 
 # for the shape FOUR, the calendar WEEK and the project PLAN: arguments that are right, lists where lists may be
 GIVEN = {
@@ -90,7 +117,9 @@ GIVEN = {
     "bound": (4, (0, 0, 0, 1), [((0, 3), 3), ((1, 3), 1)]), "mix": [([(1, 2), (0, 1), (2, 3)], (1, 2)), ([], (1, 2))],
     "sets": [((0, 2), (1, 3)), ((3,), (2, 3))], "box": ((0, 1), (1, 1), ((1, 2), 2), (0, 0)), "slot": 5, "start": 2,
     "end": 9, "work": 3, "many": 4, "choice": (0, 0), "ahead": [(0, 1)], "most": 6, "steps": [(1, 2, ("lag", 0))],
-    "machine": 0, "shifts": [(2, 5, 1, 1, "lift"), (0, 2, 0, 0, "dig")], "cost": 70,
+    "machine": 0, "shifts": [(2, 5, 1, 1, "lift"), (0, 2, 0, 0, "dig")], "cost": 70, "fixed": [(1, 1)],
+    "paper": ("modes", 0, [("modes", 1, [("first", (0, 1), [("times", [(1, 2, ("ahead", 0))]), ("times", [(0, 3, ("ahead", 0))])])])]),
+    "text": "activity a\nactivity b\nbefore a b\n",
     "answer": (1, [([(0, 1), (1, 2), (2, 3)], 1)], [((0, 3), 1)]),
 }
 
@@ -104,6 +133,11 @@ OTHERS = {
     "rota": {"project": DIGGING, "starts": (0, 2)}, "check_rota": {"project": DIGGING, "starts": (0, 2)},
     "trade_offs": {"project": DIGGING}, "cost_curve": {"project": DIGGING}, "shortest": {"project": DIGGING},
     "cheapest": {"project": DIGGING}, "count_plans": {"project": DIGGING},
+    "flaw": {"project": DIGGING, "most": 4}, "paper_of": {"project": DIGGING, "most": 4},
+    "fewest_leaves": {"project": DIGGING, "most": 4}, "good_row": {"project": DIGGING},
+    "must_move": {"project": DIGGING, "starts": (0, 1)}, "fewest_moved": {"project": DIGGING, "starts": (0, 1)},
+    "least_shift": {"project": DIGGING, "starts": (0, 1)}, "room": {"project": DIGGING, "starts": (1, 3)},
+    "spans": {"project": DIGGING},
 }
 
 KEPT = {"shape": FOUR, "calendar": WEEK, "project": PLAN}
@@ -131,7 +165,7 @@ class Interface(unittest.TestCase):
             signature = inspect.signature(function)
             self.assertEqual(tuple(signature.parameters), parameters, name)
             for parameter in signature.parameters.values():
-                if parameter.name in LEFT_OUT:
+                if parameter.name in LEFT_OUT and name not in ALWAYS_TOLD:
                     self.assertEqual(parameter.kind, parameter.KEYWORD_ONLY)
                     self.assertEqual(parameter.default, LEFT_OUT[parameter.name])
                     continue
@@ -147,11 +181,36 @@ class Interface(unittest.TestCase):
         self.assertEqual(Shape.__module__, "crewlags.shapes")
         self.assertEqual(Calendar.__module__, "crewlags.calendars")
         self.assertEqual(Project.__module__, "crewlags.projects")
+        self.assertEqual(Desk.__module__, "crewlags.desks")
+
+    def test_the_methods_of_a_desk(self):
+        self.assertEqual(tuple(inspect.signature(Desk).parameters), ("shape",))
+        for name, parameters in DESK.items():
+            self.assertIn(name, vars(Desk))
+            signature = inspect.signature(getattr(Desk(FOUR), name))
+            self.assertEqual(tuple(signature.parameters), parameters)
+            for parameter in signature.parameters.values():
+                self.assertEqual(parameter.kind, parameter.POSITIONAL_OR_KEYWORD)
+                self.assertIs(parameter.default, parameter.empty)
+
+    def test_the_parts_of_each_class(self):
+        for kind, first, rest in CLASSES:
+            signature = inspect.signature(kind)
+            self.assertEqual(tuple(signature.parameters), first + rest)
+            for name in first + rest:
+                parameter = signature.parameters[name]
+                self.assertEqual(parameter.kind == parameter.KEYWORD_ONLY, name in rest)
+                self.assertEqual(parameter.default is parameter.empty, name in first)
+            self.assertIn("__eq__", vars(kind))
+
+    def test_every_line_of_the_interface(self):
+        count = sum(len(rows) for rows in NAMES.values())
+        self.assertEqual(count, 86)
 
     def test_by_name_and_by_position_is_the_same(self):
         for function, name, parameters in all_functions():
             told = given(name, parameters)
-            named = {one: told[one] for one in parameters if one in LEFT_OUT}
+            named = {one: told[one] for one in parameters if one in LEFT_OUT and name not in ALWAYS_TOLD}
             placed = [told[one] for one in parameters if one not in named]
             self.assertEqual(function(**told), function(*placed, **named), name)
 

@@ -30,7 +30,7 @@ NODES = (
     ast.AugAssign, ast.If, ast.While, ast.For, ast.Return, ast.Break, ast.Continue, ast.Raise, ast.Expr, ast.Name,
     ast.Attribute, ast.Subscript, ast.Slice, ast.Tuple, ast.List, ast.Dict, ast.ListComp, ast.DictComp,
     ast.comprehension, ast.Lambda, ast.Call, ast.keyword, ast.Constant, ast.BinOp, ast.UnaryOp, ast.BoolOp, ast.Compare,
-    ast.IfExp, ast.JoinedStr, ast.FormattedValue, ast.expr_context, ast.operator, ast.unaryop, ast.boolop, ast.cmpop,
+    ast.IfExp, ast.Try, ast.ExceptHandler, ast.JoinedStr, ast.FormattedValue, ast.expr_context, ast.operator, ast.unaryop, ast.boolop, ast.cmpop,
 )
 
 BARRED_NAMES = set(

@@ -10,7 +10,7 @@ from crewlags.calendars import Calendar
 from crewlags.errors import NoActivity, NoAhead, NoChoice, NoDerivation, NoNumber, NoProject
 from crewlags.projects import Project
 from crewlags.times import check_derivation, derivation, possible_starts, times
-from tests.project_support import keeps_lag, marks, plain, set_up, some_project
+from tests.project_support import keeps_times, plain, slow_fault, slow_possible, slow_times, some_project
 from tests.support import PLAN, looped, no_rows, odd_values, raised, wrong_pairs
 
 GREAT = 10 ** 40
@@ -22,78 +22,6 @@ FUNCTIONS = {
 
 
 CASES = [some_project(random.Random(seed), 1 + seed % 3) for seed in range(500)]
-
-
-def slow_possible(project, choice, a, most):
-    """The possible starts, by the words of the document."""
-    found = []
-    for start in range(0, 61):
-        told = marks(project, choice, a, start)
-        release, deadline = project.windows[a] if project.windows else (0, None)
-        if start < release or told["end"] is None or told["end"] > project.horizon:
-            continue
-        if deadline is not None and told["end"] > deadline or most is not None and told["end"] > most:
-            continue
-        if all(keeps_lag(lag, told, told) for lag in project.lags if lag[1] == lag[3] == a):
-            found.append(start)
-    return found
-
-
-def keeps_times(project, choice, ahead, starts):
-    """Whether possible starts keep the times."""
-    told = [marks(project, choice, a, start) for a, start in enumerate(starts)]
-    if not all(keeps_lag(lag, told[lag[1]], told[lag[3]]) for lag in project.lags):
-        return False
-    return all(told[b]["start"] >= told[a]["end"] + set_up(project, a, b) for a, b in ahead)
-
-
-def slow_times(project, choice, ahead, most):
-    """What times has to tell, by a search through all starts."""
-    rows = [slow_possible(project, choice, a, most) for a in range(len(project.names))]
-    good = [starts for starts in product(*rows) if keeps_times(project, choice, ahead, starts)]
-    if not good:
-        return None
-    least, greatest = tuple(map(min, zip(*good))), tuple(map(max, zip(*good)))
-    assert least in good and greatest in good
-    return least, greatest
-
-
-def slow_fault(project, choice, steps, ahead, most):
-    """What check_derivation has to raise for steps that have the form of steps, by the words of the document."""
-    rows = [slow_possible(project, choice, a, most) for a in range(len(project.names))]
-    bounds = [0] * len(rows)
-
-    def left(a):
-        return [start for start in rows[a] if start >= bounds[a]]
-
-    for at, (a, time, reason) in enumerate(steps):
-        early = [start for start in left(a) if start < time]
-        if reason[0] == "lag":
-            if not 0 <= reason[1] < len(project.lags):
-                return "steps", at
-            one, first, other, second, low, high = project.lags[reason[1]]
-            if first == second or a not in (first, second) or (a == first and high is None):
-                return "steps", at
-            rest = left(first + second - a)
-            if rest and a == second:
-                gap = marks(project, choice, first, rest[0])[one] + low
-                early = [start for start in early if marks(project, choice, a, start)[other] >= gap]
-            elif rest:
-                gap = marks(project, choice, second, rest[0])[other] - high
-                early = [start for start in early if marks(project, choice, a, start)[one] >= gap]
-            else:
-                early = []
-        elif reason[0] == "ahead":
-            if not 0 <= reason[1] < len(ahead) or ahead[reason[1]][1] != a:
-                return "steps", at
-            first = ahead[reason[1]][0]
-            rest = left(first)
-            gap = marks(project, choice, first, rest[0])["end"] + set_up(project, first, a) if rest else GREAT
-            early = [start for start in early if start >= gap]
-        if early:
-            return "steps", at
-        bounds[a] = max(bounds[a], time)
-    return ("open", -1) if all(left(a) for a in range(len(rows))) else None
 
 
 class PossibleStarts(unittest.TestCase):
