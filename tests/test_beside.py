@@ -1,6 +1,7 @@
 """[33] to [36]: shapes beside one another, what is idle, what is enough, capacities."""
 
 import random
+import sys
 import unittest
 from itertools import combinations
 
@@ -291,6 +292,67 @@ class Idle(unittest.TestCase):
             self.assertEqual(idle(side_by_side(7, most)), [("machine", 0)] if most == 7 else [])
         self.assertEqual(idle(ring_of_seven()), [])
         self.assertEqual(idle(some_shape(3, 7)), slow_idle(some_shape(3, 7)))
+
+
+def alike(most):
+    """The greatest shape of activities that are all alike: four machines, eight workers."""
+    machines = [(most, (1,) * 7), (most, (1,) * 7), (7, (1,) * 7), (210, (30,) * 7)]
+    return Shape(list("abcdefg"), machines=machines, crew=[("x",)] * 7 + [("y",)], asks=[(("x", 1),)] * 7)
+
+
+def steps_of(function, shape):
+    """How many lines are run by a function: unlike its time, this is the same whatever else goes on."""
+    lines = []
+
+    def note(_, event, __):
+        if event == "line":
+            lines.append(1)
+        return note
+
+    before = sys.gettrace()
+    sys.settrace(note)
+    try:
+        function(shape)
+    finally:
+        sys.settrace(before)
+    return len(lines)
+
+
+class Alike(unittest.TestCase):
+    def test_all_is_idle_alone(self):
+        parts = [("machine", at) for at in range(4)] + [("worker", at) for at in range(8)]
+        parts += [("skill", at, "x") for at in range(7)] + [("skill", 7, "y")] + [("ask", a, "x") for a in range(7)]
+        for most in range(2, 7):
+            self.assertEqual(idle(alike(most)), parts)
+
+    def test_as_many_workers_as_the_machines_bear_are_enough(self):
+        for most in range(2, 7):
+            told = [((), workers) for workers in combinations(range(7), most)]
+            self.assertEqual(enough(alike(most)), told)
+
+    def test_with_one_and_with_all_at_a_time(self):
+        self.assertEqual(idle(alike(1)), idle(alike(2)))
+        self.assertEqual(enough(alike(1)), [((), (at,)) for at in range(7)])
+        self.assertEqual(enough(alike(7)), [((), tuple(range(7)))])
+        self.assertEqual(
+            idle(alike(7)),
+            [("machine", at) for at in range(4)] + [("worker", 7), ("skill", 7, "y")]
+            + [("ask", a, "x") for a in range(7)],
+        )
+
+    def test_capacities_and_allowed_sets_of_them(self):
+        for most in range(2, 7):
+            shape = alike(most)
+            self.assertEqual(capacities(shape), [(most, None), (most, None), (most, None), (30 * most, None)])
+            self.assertEqual(
+                allowed_sets(shape), [some for size in range(1, most + 1) for some in combinations(range(7), size)]
+            )
+
+    def test_few_steps_are_enough(self):
+        # trying out all machines and workers would take some hundred thousand
+        for most in range(2, 7):
+            for function in (idle, enough):
+                self.assertLess(steps_of(function, alike(most)), 12000)
 
 
 class Enough(unittest.TestCase):
