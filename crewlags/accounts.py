@@ -28,6 +28,6 @@ def late_cost(project, ends):
     return total
 
 
-def ends_cost(project, ends):
-    """What the ends cost: the overhead, and what is late."""
-    return project.overhead * max(ends) + late_cost(project, ends)
+def ends_cost(project, ends, time):
+    """What the ends cost: the overhead up to a time, and what is late."""
+    return project.overhead * time + late_cost(project, ends)

@@ -3,73 +3,52 @@
 The PLACE of an activity is the index of its spot. That the place of one activity is
 no less than what a TABLE tells for the place of another one is a PULL: by the first
 is meant that which pulls. As no table ever falls, the least places that keep all
-pulls are found by lifting alone. A BLOCK is a set of activities of which not each
-two may be close to one another: in any plan that keeps the project one member of
-each block comes behind another one.
+pulls are found by lifting alone.
 """
 
 from crewlags.couples import both_ways, couples
-from crewlags.projects import shape_of
-from crewlags.shapes import forbidden_cores, without_larger
-from crewlags.ties import ahead_ties, lag_ties
 
 
 class Board:
-    """The spots of each activity, the pulls of the lags, and the blocks.
+    """The spots of each activity, the pulls of the lags, and the blocks, once they have been learned.
 
-    behind has for two members of a block the table of the first that pulls the second
-    behind itself. closes has for each block what are_close asks for, for each two members.
+    least_end is one that no plan is ahead of, as far as that is known. behind has for two
+    members of a block the table of the first that pulls the second behind itself. closes
+    has for each block what are_close asks for, for each two members.
     """
 
-    def __init__(self, choice, spots, pulls, behind, blocks):
+    def __init__(self, ground, tables, choice, spots, pulls):
+        self.ground = ground
+        self.tables = tables
         self.choice = choice
         self.spots = spots
         self.sizes = [len(row) for row in spots]
         self.pulls = pulls
-        self.behind = behind
+        self.least_end = 0
+        self.blocks = None
+        self.behind = {}
+        self.closes = []
+
+    def learn(self):
+        """Finds out the blocks: a search never asks for those of many boards."""
+        if self.blocks is None:
+            blocks = self.ground.find_blocks(self.choice)
+            pairs = {pair: True for block in blocks for pair in both_ways(block)}
+            ties = self.ground.pair_ties
+            self.behind = {pair: self.tables.told(ties[pair], self.choice, self.spots) for pair in pairs}
+            self.take(blocks)
+
+    def take(self, blocks):
+        """Takes the blocks, behind being known."""
+        behind = self.behind
         self.blocks = blocks
         self.closes = [[(a, b, behind[a, b], behind[b, a]) for a, b in couples(block)] for block in blocks]
 
 
-def table_of(tie, spots):
-    """For each place of what pulls the least place of what is pulled; their number if there is none."""
-    table = []
-    at = 0
-    pulled = spots[tie.to]
-    for spot in spots[tie.by]:
-        while at < len(pulled) and not tie.fits(spot, pulled[at]):
-            at += 1
-        table.append(at)
-    return table
-
-
-def pulls_of(ties, spots):
-    """The pulls of some ties."""
-    return [(tie.by, tie.to, table_of(tie, spots)) for tie in ties]
-
-
-def single_pairs(project):
-    """The sets of two activities of which only one may go on at a time."""
-    return [pair for members, _ in project.singles for pair in couples(members)]
-
-
-def block_sets(project, choice):
-    """The blocks, those with the fewest members first, without those that have another one as a part."""
-    return without_larger(single_pairs(project) + forbidden_cores(shape_of(project, choice)))
-
-
-def pairs_behind(sets):
-    """All pairs of two members of one of some sets, in both directions."""
-    return list({pair: True for some in sets for pair in both_ways(some)})
-
-
-def board_of(project, choice, spots):
-    """The board of the told spots."""
-    sets = block_sets(project, choice)
-    pairs = pairs_behind(sets)
-    pulls = pulls_of(ahead_ties(project, pairs), spots)
-    behind = {pair: table for pair, (_, _, table) in zip(pairs, pulls)}
-    return Board(choice, spots, pulls_of(lag_ties(project), spots), behind, sets)
+def board_of(ground, tables, choice, spots):
+    """The board of some spots."""
+    pulls = [(tie.by, tie.to, tables.told(tie, choice, spots)) for tie in ground.lags]
+    return Board(ground, tables, choice, spots, pulls)
 
 
 def mirrored_table(table, many):
@@ -79,10 +58,13 @@ def mirrored_table(table, many):
 
 def mirrored(board):
     """The board with all places counted from the last one on: its least places are the greatest ones."""
+    board.learn()
     sizes = board.sizes
     pulls = [(to, by, mirrored_table(table, sizes[to])) for by, to, table in board.pulls]
-    behind = {(b, a): mirrored_table(table, sizes[b]) for (a, b), table in board.behind.items()}
-    return Board(board.choice, [row[::-1] for row in board.spots], pulls, behind, board.blocks)
+    told = Board(board.ground, board.tables, board.choice, [row[::-1] for row in board.spots], pulls)
+    told.behind = {(b, a): mirrored_table(table, sizes[b]) for (a, b), table in board.behind.items()}
+    told.take(board.blocks)
+    return told
 
 
 def lifted(board, places, ahead):
@@ -119,6 +101,7 @@ def are_close(places, rows):
 
 def first_block(board, places):
     """The first block of which each two members are close to one another, or None."""
+    board.learn()
     for block, rows in zip(board.blocks, board.closes):
         if are_close(places, rows):
             return block

@@ -3,6 +3,7 @@
 from crewlags.accounts import stocks_over, uses_of
 from crewlags.boards import board_of
 from crewlags.couples import couples
+from crewlags.grounds import Ground, Tables
 from crewlags.masks import bit_count, members
 from crewlags.needs import need_limit
 from crewlags.projects import need_choice, need_project
@@ -88,4 +89,6 @@ def count_plans(project, choice, *, most=None):
     need_limit(most, "most")
     if stocks_over(project, uses_of(project, choice)):
         return 0
-    return count_behind(Masks(board_of(project, choice, all_spots(project, choice, most))), ())
+    board = board_of(Ground(project), Tables(), choice, all_spots(project, choice, most))
+    board.learn()
+    return count_behind(Masks(board), ())

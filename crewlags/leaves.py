@@ -1,7 +1,8 @@
 """How few leaves a paper without "energy" can have: the parts in which there are no other ones.
 
 A pair that is ahead already changes nothing, so a set with such a pair is never worth
-a part. So there are as many moments as sets of pairs, and what is told of one is kept.
+a part. So there are as many moments as sets of pairs, and what is told of one is kept, as
+is what is told of some chosen modes.
 """
 
 from crewlags.couples import both_ways
@@ -45,15 +46,28 @@ def fewest_behind(reading, choice, apart, ahead, known):
     return known[ahead]
 
 
-def fewest_at(reading, chosen):
+def fewest_chosen(reading, chosen, known):
     """The fewest leaves at a moment at which nothing is ahead, or None."""
-    if first_stock_over(reading.project, chosen) is not None:
-        return 1
-    if None not in chosen:
-        return fewest_behind(reading, chosen, sets_apart(reading, chosen), (), {})
+    if chosen not in known:
+        if first_stock_over(reading.project, chosen) is not None:
+            known[chosen] = 1
+        elif None not in chosen:
+            known[chosen] = fewest_behind(reading, chosen, sets_apart(reading, chosen), (), {})
+        else:
+            known[chosen] = least_told(sums_of_modes(reading, chosen, known))
+    return known[chosen]
+
+
+def sums_of_modes(reading, chosen, known):
+    """For each activity without a mode the sum of the fewest leaves with each of its modes."""
     sums = []
     for a, mode in enumerate(chosen):
         if mode is None:
             moments = [with_mode(chosen, a, at) for at in range(len(reading.project.modes[a]))]
-            sums.append(summed([fewest_at(reading, moment) for moment in moments]))
-    return least_told(sums)
+            sums.append(summed([fewest_chosen(reading, moment, known) for moment in moments]))
+    return sums
+
+
+def fewest_at(reading, chosen):
+    """The fewest leaves of a paper that begins at a moment, or None."""
+    return fewest_chosen(reading, chosen, {})

@@ -4,7 +4,8 @@ At a moment modes are chosen for some activities, None stands for the others, an
 is a tuple of pairs ahead. What is asked again and again for the same choice is kept.
 """
 
-from crewlags.boards import single_pairs
+from crewlags.grounds import single_pairs
+from crewlags.least_ends import demands_on, least_length
 from crewlags.limits import all_limits, first_over
 from crewlags.projects import shape_of
 from crewlags.ties import all_ties, spots_of
@@ -19,6 +20,7 @@ class Reading:
         self.singles = single_pairs(project)
         self.known_spots = {}
         self.known_limits = {}
+        self.known_work = {}
 
     def spot_rows(self, choice):
         """The spots of each activity."""
@@ -26,6 +28,13 @@ class Reading:
             rows = [spots_of(self.project, choice, a, self.most) for a in range(len(choice))]
             self.known_spots[choice] = rows
         return self.known_spots[choice]
+
+    def machine_work(self, choice):
+        """The demands on each machine, and the least length of each activity; there have to be spots of each."""
+        if choice not in self.known_work:
+            lengths = [least_length(row) for row in self.spot_rows(choice)]
+            self.known_work[choice] = (demands_on(self.project, choice), lengths)
+        return self.known_work[choice]
 
     def ties(self, ahead):
         """The ties of the lags and of the pairs ahead."""

@@ -1,10 +1,11 @@
 """Papers: they show that no plan of a project has ended at a time."""
 
-from crewlags.boards import first_block, least_places, lifted
+from crewlags.boards import first_block, least_places, lifted, starts_at
 from crewlags.couples import both_ways
 from crewlags.errors import TooGreat
-from crewlags.front import all_boards
+from crewlags.front import all_boards, in_time
 from crewlags.kinds import is_index, is_natural, is_row, is_set
+from crewlags.least_ends import from_to
 from crewlags.leaves import fewest_at
 from crewlags.moments import Reading, first_stock_over, least_use, no_modes, with_mode
 from crewlags.needs import need_number
@@ -101,10 +102,25 @@ def no_times(reading, choice, ahead):
     return "times", steps
 
 
+def too_much(reading, choice, starts):
+    """The part that shows that a machine cannot bear what must be done from the least starts on, or None."""
+    project = reading.project
+    last = min(reading.most, project.horizon)
+    all_demands, lengths = reading.machine_work(choice)
+    for machine, demands in enumerate(all_demands):
+        span = from_to(project.machines[machine], demands, starts, lengths)
+        if span is not None and span[1] > last:
+            return "energy", machine, span[0], last
+    return None
+
+
 def paper_behind(reading, board, places, ahead):
     """A paper at a moment at which all modes are chosen, the least places being told; None for none."""
     if places is None:
         return no_times(reading, board.choice, ahead)
+    part = too_much(reading, board.choice, starts_at(board, places))
+    if part is not None:
+        return part
     block = first_block(board, places)
     papers = []
     for pair in both_ways(block):
@@ -118,9 +134,10 @@ def paper_with(reading, boards, chosen):
     k = first_stock_over(reading.project, chosen)
     if k is not None:
         return "stock", k
+    if None not in chosen and chosen not in boards:
+        return no_times(reading, chosen, ())
     if None not in chosen:
-        board = boards[chosen]
-        return paper_behind(reading, board, least_places(board), ())
+        return paper_behind(reading, boards[chosen], least_places(boards[chosen]), ())
     a = chosen.index(None)
     moments = [with_mode(chosen, a, mode) for mode in range(len(reading.project.modes[a]))]
     return "modes", a, tuple([paper_with(reading, boards, moment) for moment in moments])
@@ -147,7 +164,7 @@ def paper_of(project, most):
     need_project(project)
     need_number(most, "most")
     boards = all_boards(project, most)
-    if best_of(boards, lambda board, places: 0) is not None:
+    if best_of(in_time(project, boards, most), lambda board, places: 0) is not None:
         return None
     return paper_with(Reading(project, most), {board.choice: board for board in boards}, no_modes(project))
 

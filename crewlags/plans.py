@@ -130,7 +130,8 @@ def account(project, choice, starts):
     need_plan(project, choice, starts)
     ends = all_ends(project, choice, starts)
     need_ends(ends)
-    return max(ends), modes_cost(project, choice) + ends_cost(project, ends), uses_of(project, choice)
+    time = max(ends)
+    return time, modes_cost(project, choice) + ends_cost(project, ends, time), uses_of(project, choice)
 
 
 def loads(project, choice, starts, machine):

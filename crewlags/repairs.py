@@ -7,6 +7,7 @@ The greatest places are looked for as the least ones of the mirrored board.
 from crewlags.accounts import stocks_over, uses_of
 from crewlags.boards import board_of, ends_at, mirrored, starts_at
 from crewlags.errors import NoFixed
+from crewlags.grounds import Ground, Tables
 from crewlags.kinds import is_index, is_natural, is_row
 from crewlags.masks import all_sets
 from crewlags.plans import all_ends, need_no_faults, need_plan
@@ -48,16 +49,23 @@ def others_fixed(rows, starts, free):
     return [row if a in free else with_start(row, starts[a]) for a, row in enumerate(rows)]
 
 
-def boards_for(project, choice, rows):
-    """The board of some spots in a list, which is empty if the choice uses more than there is."""
-    if stocks_over(project, uses_of(project, choice)):
-        return []
-    return [board_of(project, choice, rows)]
+class Case:
+    """A project with chosen modes, of which good rows are looked for."""
+
+    def __init__(self, project, choice):
+        self.ground = Ground(project)
+        self.choice = choice
+        self.can_be = not stocks_over(project, uses_of(project, choice))
 
 
-def first_row(project, choice, rows):
+def boards_for(case, rows):
+    """The board of some spots in a list, which is empty if the modes use more than there is."""
+    return [board_of(case.ground, Tables(), case.choice, rows)] if case.can_be else []
+
+
+def first_row(case, rows):
     """The first good row among some spots, or None."""
-    best = best_of(boards_for(project, choice, rows), lambda board, places: tuple(places))
+    best = best_of(boards_for(case, rows), lambda board, places: tuple(places))
     return None if best is None else starts_at(best[1], best[2])
 
 
@@ -80,19 +88,20 @@ def good_row(project, choice, *, fixed=()):
     rows = all_spots(project, choice, None)
     for a, start in fixed:
         rows[a] = with_start(rows[a], start)
-    return first_row(project, choice, rows)
+    return first_row(Case(project, choice), rows)
 
 
 def must_move(project, choice, starts):
     """The set of the activities that start at another time than told in every good row, or None."""
     need_plan(project, choice, starts)
+    case = Case(project, choice)
     rows = all_spots(project, choice, None)
-    if first_row(project, choice, rows) is None:
+    if first_row(case, rows) is None:
         return None
     moving = []
     for a, start in enumerate(starts):
         fixed = rows[:a] + [with_start(rows[a], start)] + rows[a + 1:]
-        if first_row(project, choice, fixed) is None:
+        if first_row(case, fixed) is None:
             moving.append(a)
     return tuple(moving)
 
@@ -100,46 +109,49 @@ def must_move(project, choice, starts):
 def fewest_moved(project, choice, starts):
     """The first set of the fewest activities that have to start otherwise, with the first good row, or None."""
     need_plan(project, choice, starts)
+    case = Case(project, choice)
     rows = all_spots(project, choice, None)
     for moved in [()] + all_sets(len(starts)):
-        row = first_row(project, choice, others_fixed(rows, starts, moved))
+        row = first_row(case, others_fixed(rows, starts, moved))
         if row is not None:
             return moved, row
     return None
 
 
-def near_row(project, choice, starts, shift):
+def near_row(case, rows, starts, shift):
     """The first good row in which nothing starts more than so much earlier or later than told, or None."""
-    rows = all_spots(project, choice, None)
-    return first_row(project, choice, [near(row, start, shift) for row, start in zip(rows, starts)])
+    return first_row(case, [near(row, start, shift) for row, start in zip(rows, starts)])
 
 
 def least_shift(project, choice, starts):
     """By how much starts have to move at least, and the first good row that is as near, or None."""
     need_plan(project, choice, starts)
+    case = Case(project, choice)
     rows = all_spots(project, choice, None)
     shifts = sorted(set([abs(spot[0] - start) for row, start in zip(rows, starts) for spot in row]))
-    if not shifts or near_row(project, choice, starts, shifts[-1]) is None:
+    if not shifts or near_row(case, rows, starts, shifts[-1]) is None:
         return None
     low, high = 0, len(shifts) - 1
     while low < high:
         middle = (low + high) // 2
-        if near_row(project, choice, starts, shifts[middle]) is None:
+        if near_row(case, rows, starts, shifts[middle]) is None:
             low = middle + 1
         else:
             high = middle
-    return shifts[low], near_row(project, choice, starts, shifts[low])
+    return shifts[low], near_row(case, rows, starts, shifts[low])
 
 
 def room(project, choice, starts):
     """For each activity its greatest start with all others as told, and in any good row, ending no later than told."""
     need_plan(project, choice, starts)
     need_no_faults(project, choice, starts)
+    case = Case(project, choice)
     rows = all_spots(project, choice, max(all_ends(project, choice, starts)))
+    boards = boards_for(case, rows)
     found = []
     for a in range(len(starts)):
-        alone = greatest_start(boards_for(project, choice, others_fixed(rows, starts, (a,))), a)
-        found.append((alone, greatest_start(boards_for(project, choice, rows), a)))
+        alone = greatest_start(boards_for(case, others_fixed(rows, starts, (a,))), a)
+        found.append((alone, greatest_start(boards, a)))
     return found
 
 
@@ -147,9 +159,10 @@ def spans(project, choice):
     """The least time of a good row, and the least and the greatest start of each activity in it, or None."""
     need_project(project)
     need_choice(project, choice)
+    case = Case(project, choice)
     rows = all_spots(project, choice, None)
-    best = best_of(boards_for(project, choice, rows), lambda board, places: max(ends_at(board, places)))
+    best = best_of(boards_for(case, rows), lambda board, places: max(ends_at(board, places)))
     if best is None:
         return None
-    boards = boards_for(project, choice, all_spots(project, choice, best[0]))
+    boards = boards_for(case, all_spots(project, choice, best[0]))
     return best[0], [(least_start(boards, a), greatest_start(boards, a)) for a in range(len(project.names))]

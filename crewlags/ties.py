@@ -106,12 +106,14 @@ def lag_ties(project):
     return ties
 
 
+def ahead_tie(project, reason, a, b):
+    """The tie of a pair ahead."""
+    return Tie(reason, a, PLACES["end"], b, PLACES["start"], set_up(project, a, b))
+
+
 def ahead_ties(project, ahead):
     """The ties of the pairs ahead."""
-    ties = []
-    for k, (a, b) in enumerate(ahead):
-        ties.append(Tie(("ahead", k), a, PLACES["end"], b, PLACES["start"], set_up(project, a, b)))
-    return ties
+    return [ahead_tie(project, ("ahead", k), a, b) for k, (a, b) in enumerate(ahead)]
 
 
 def all_ties(project, ahead):

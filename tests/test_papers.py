@@ -149,7 +149,18 @@ def other_part(rnd, part):
     if part[0] == "times":
         rows += [("times", part[1][:-1]), ("times", part[1] + [(0, 1, ("window",))]), ("times", tuple(part[1])),
                  ("times", part[1] + [(0, 0, ("lag", 0))]), ("times", part[1] * 2)]
+    if part[0] == "energy":
+        rows += [("energy", part[1], part[2] + 1, part[3]), ("energy", part[1], part[2], part[3] + 1),
+                 ("energy", part[1], part[2] // 2, part[3]), ("energy", part[1], part[3], part[2]), ("times", [])]
     return rnd.choice(rows)
+
+
+def one_by_one(seed):
+    """Three activities that go on one by one, with set-ups."""
+    rnd = random.Random(seed)
+    table = tuple(tuple(rnd.randint(0, 2) for _ in range(2)) for _ in range(2))
+    works = [rnd.randint(1, 3) for _ in range(3)]
+    return plain(works, horizon=8, families=(0, 1, rnd.randint(0, 1)), singles=(((0, 1, 2), table),))
 
 
 class PaperOf(unittest.TestCase):
@@ -168,7 +179,7 @@ class PaperOf(unittest.TestCase):
                 for way in ways_of(paper):
                     word = part_at(paper, way)[0]
                     seen[word] = seen.get(word, 0) + 1
-        self.assertLessEqual({None, "modes", "stock", "first", "times"}, set(seen))
+        self.assertLessEqual({None, "modes", "stock", "first", "times", "energy"}, set(seen))
         self.assertGreater(min(seen.values()), 30, seen)
 
     def test_four_and_five_activities(self):
@@ -210,13 +221,24 @@ class PaperOf(unittest.TestCase):
         self.assertEqual(flaw(EXAMPLE, 5, EXAMPLE_PAPER), (0, 0))
 
     def test_what_is_told_is_new(self):
+        project = plain((2, 3), horizon=9, singles=(((0, 1), ((0,),)),))
         for _ in range(2):
-            paper = paper_of(EXAMPLE, 4)
+            paper = paper_of(project, 4)
             for way in ways_of(paper):
                 if part_at(paper, way)[0] == "times":
                     part_at(paper, way)[1].clear()
-            self.assertIsNotNone(flaw(EXAMPLE, 4, paper))
-            self.assertIsNone(flaw(EXAMPLE, 4, paper_of(EXAMPLE, 4)))
+            self.assertIsNotNone(flaw(project, 4, paper))
+            self.assertIsNone(flaw(project, 4, paper_of(project, 4)))
+
+    def test_one_part_shows_that_a_machine_cannot_bear_it(self):
+        modes = tuple(tuple((10 - k, (1,), (), 0) for k in range(3)) for _ in range(5))
+        project = Project(tuple("abcde"), 60, (1,), (), modes)
+        paper = paper_of(project, 39)
+        self.assertIsNone(flaw(project, 39, paper))
+        words = [part_at(paper, way)[0] for way in ways_of(paper)]
+        self.assertEqual([words.count(word) for word in ("modes", "energy")], [121, 243])
+        self.assertEqual(len(words), 121 + 243)
+        self.assertIsNone(paper_of(project, 40))
 
 
 class Flaw(unittest.TestCase):
@@ -235,8 +257,7 @@ class Flaw(unittest.TestCase):
     def test_papers_spoilt_by_chance(self):
         rnd = random.Random(1)
         spoilt = stand = deep = 0
-        for seed in range(240):
-            project = drawn(seed)
+        for project in [drawn(seed) for seed in range(240)] + [one_by_one(seed) for seed in range(30)]:
             for most in (1, 2, 4):
                 paper = paper_of(project, most)
                 if paper is None:
@@ -630,13 +651,16 @@ class FewestLeaves(unittest.TestCase):
                 self.assertEqual(fewest_leaves(project, most) is None, paper_of(project, most) is None)
 
     def test_never_more_than_the_paper_that_is_told_has(self):
+        compared = 0
         for seed in range(120):
             project = drawn(seed)
             for most in (0, 2, 4, project.horizon):
                 paper = paper_of(project, most)
-                if paper is not None:
-                    leaves = [way for way in ways_of(paper) if part_at(paper, way)[0] in ("times", "stock")]
-                    self.assertGreaterEqual(len(leaves), fewest_leaves(project, most))
+                words = [] if paper is None else [part_at(paper, way)[0] for way in ways_of(paper)]
+                if words and "energy" not in words:
+                    self.assertGreaterEqual(words.count("times") + words.count("stock"), fewest_leaves(project, most))
+                    compared += 1
+        self.assertGreater(compared, 100)
 
     def test_they_never_grow_as_the_time_gets_less(self):
         steps = 0
